@@ -1,0 +1,1 @@
+"""Actasone: copies that act as one machine."""

@@ -1,0 +1,120 @@
+"""The last section: names, parameters, and what is defined where."""
+
+import importlib
+import inspect
+import unittest
+
+FUNCTIONS = {
+    'kinds': {
+        word: 'thing'
+        for word in (
+            'is_integer', 'is_number', 'is_name', 'is_machine', 'is_trust', 'is_clocks', 'is_looking', 'is_waking',
+            'is_book',
+        )
+    },
+    'partschecker': {
+        'lets_machine': 'thing', 'lets_trust': 'thing', 'lets_clocks': 'trust thing', 'lets_parts': 'thing',
+    },
+    'machineparts': {
+        'next_state': 'machine state letter', 'made_of': 'machine state row', 'answer_of': 'machine state look',
+    },
+    'machinechanges': {
+        'only_looks': 'machine looks', 'renumbered': 'machine states', 'renamed_machine': 'machine letters looks',
+        'side_by_side': 'machine other',
+    },
+    'trustparts': {'houses_of': 'trust', 'lots_at': 'trust house', 'fears_at': 'trust house'},
+    'trustchanges': {
+        'with_lot': 'trust house lot', 'with_fear': 'trust house fear', 'renamed_trust': 'trust names',
+    },
+    'texts': {'machine_text': 'machine', 'book_text': 'book'},
+    'readings': {'machine_read': 'text', 'book_read': 'text'},
+    'reaching': {'reachable_states': 'machine', 'row_to': 'machine state'},
+    'alikestates': {
+        'alike_classes': 'machine looks', 'are_alike': 'machine state other looks',
+        'parting_row': 'machine state other looks', 'starts_alike': 'machine other', 'least_machine': 'machine',
+        'folded': 'machine',
+    },
+    'moving': {
+        'moves_past': 'machine look age', 'least_look_age': 'machine look', 'moving_walk': 'machine look age',
+        'is_moving': 'machine look age thing',
+    },
+    'counting': {
+        'settles': 'machine looks many', 'right_many': 'machine looks', 'unlike_walk': 'machine looks many',
+        'partings_of': 'machine looks many',
+    },
+    'alikepapers': {'alike_paper': 'machine state other looks'},
+    'alikechecker': {'lets_alike': 'machine state other looks thing'},
+    'falls': {
+        'is_safe': 'trust house fall', 'safe_houses': 'trust fall', 'greatest_falls': 'trust house',
+        'common_falls': 'trust house other',
+    },
+}
+CLASSES = {
+    ('machineclasses', 'Machine'): (
+        'letters looks moves answers',
+        'machine_now __getitem__ __call__ __contains__ __len__ __iter__ __str__ __eq__ __or__ __and__ of read',
+    ),
+    ('trustclasses', 'Trust'): (
+        '*triples',
+        'trust_now __getitem__ __contains__ __len__ __iter__ __eq__ lotted fearing __mod__',
+    ),
+    ('walkclasses', 'Walk'): (
+        'machine state=0 row=()',
+        'take back machine_now state_now row_now __iadd__ __add__ __call__ __getitem__ __contains__ __iter__ __len__ '
+        '__str__ __eq__',
+    ),
+}
+METHODS = {
+    ('machineclasses', 'Machine', '__call__'): 'self state row',
+    ('machineclasses', 'Machine', 'of'): 'machine',
+    ('machineclasses', 'Machine', 'read'): 'text',
+    ('trustclasses', 'Trust', 'lotted'): 'self house lot',
+    ('trustclasses', 'Trust', 'fearing'): 'self house fear',
+    ('walkclasses', 'Walk', 'take'): 'self letter',
+    ('walkclasses', 'Walk', 'back'): 'self',
+    ('walkclasses', 'Walk', '__call__'): 'self row',
+}
+
+
+def parameters(call):
+    return ' '.join(str(part) for part in inspect.signature(call).parameters.values())
+
+
+def module(name):
+    return importlib.import_module('actasone.' + name)
+
+
+class Interface(unittest.TestCase):
+    def test_functions(self):
+        for place, calls in FUNCTIONS.items():
+            for name, wanted in calls.items():
+                call = getattr(module(place), name)
+                self.assertTrue(inspect.isfunction(call))
+                self.assertEqual(call.__module__, 'actasone.' + place)
+                self.assertEqual(parameters(call), wanted, name)
+
+    def test_classes(self):
+        for (place, name), (wanted, own) in CLASSES.items():
+            kind = getattr(module(place), name)
+            self.assertEqual(kind.__module__, 'actasone.' + place)
+            self.assertEqual(parameters(kind), wanted)
+            for word in own.split():
+                self.assertIn(word, vars(kind), name)
+
+    def test_methods(self):
+        for (place, name, word), wanted in METHODS.items():
+            self.assertEqual(parameters(getattr(getattr(module(place), name), word)), wanted)
+
+    def test_properties(self):
+        for (place, name), (_, own) in CLASSES.items():
+            for word in own.split():
+                if word.endswith('_now'):
+                    self.assertIsInstance(vars(getattr(module(place), name))[word], property)
+
+    def test_errors_are_defined_in_their_file(self):
+        errors = module('errors')
+        for name in (
+            'CopyError', 'PaperError', 'BookError', 'LiveError', 'TextError', 'InvalidPaper', 'NotUsable', 'NoTable',
+            'InvalidEvent', 'NothingToUndo', 'InvalidText', 'InvalidRow',
+        ):
+            self.assertEqual(getattr(errors, name).__module__, 'actasone.errors')

@@ -1,0 +1,225 @@
+"""Points 2, 14, 24: parameters of any kind, by position and by name, the first wrong one named."""
+
+from itertools import combinations
+
+from actasone.alikechecker import lets_alike
+from actasone.alikepapers import alike_paper
+from actasone.alikestates import (
+    alike_classes, are_alike, folded, least_machine, parting_row, starts_alike,
+)
+from actasone.counting import partings_of, right_many, settles, unlike_walk
+from actasone.falls import common_falls, greatest_falls, is_safe, safe_houses
+from actasone.machinechanges import only_looks, renamed_machine, renumbered, side_by_side
+from actasone.machineparts import answer_of, made_of, next_state
+from actasone.moving import is_moving, least_look_age, moves_past, moving_walk
+from actasone.partschecker import lets_clocks
+from actasone.reaching import reachable_states, row_to
+from actasone.readings import book_read, machine_read
+from actasone.texts import book_text, machine_text
+from actasone.trustchanges import renamed_trust, with_fear, with_lot
+from actasone.trustparts import fears_at, houses_of, lots_at
+from actasone.walkclasses import Walk
+from tests import plain
+from tests.cases import Case
+from tests.samples import BOOK, CALM, DIAL, LAMP, ODD, SMALL, THREE, changes_of
+
+LETTERS, LOOKS, STATES = DIAL[0], DIAL[1], (0, 1, 2)
+HOUSES = ('a', 'b', 'c')
+
+
+def odd_beside(good, *more):
+    """Values that a parameter is not let to be: those of many kinds that are not good."""
+    return [value for value in ODD + list(more) if not good(value)]
+
+
+def is_in(things):
+    return lambda value: type(value) is str and value in things
+
+
+def is_set_in(things):
+    return lambda value: plain.is_set(value, is_in(things))
+
+
+def are_two_names(value):
+    return type(value) is tuple and all(map(plain.is_name, value)) and len(value) == len(set(value)) == 2
+
+
+BAD_MACHINES = ODD + [value for value in changes_of(LAMP) if not plain.is_machine(value)] + [CALM, list(LAMP), DIAL[:3]]
+BAD_TRUSTS = ODD + [value for value in changes_of(CALM) if not plain.is_trust(value)] + [LAMP, list(CALM)]
+BAD_STATES = odd_beside(lambda value: type(value) is int and 0 <= value < 3, 3, 4, -3, '1', [1])
+BAD_LETTERS = odd_beside(is_in(LETTERS), 'Up', 'high', ['up'], ('up',), 'downup')
+BAD_LOOKS_ONE = odd_beside(is_in(LOOKS), 'High', 'up', ['low'], ('low',))
+BAD_LOOKS = odd_beside(
+    is_set_in(LOOKS), ('low', 'high'), ('low', 'low'), ['low'], ('low', None), 'low', ('high', 'up'), (['low'],),
+)
+BAD_ROWS = odd_beside(
+    lambda value: type(value) is tuple and all(map(is_in(LETTERS), value)), ['up'], ('up', 'high'), 'up', ('up', ['up']),
+)
+BAD_NUMBERS = odd_beside(plain.is_number, '1', (1,), [1])
+BAD_HOUSES = odd_beside(is_in(HOUSES), 'd', ['a'], 'A', ('a',))
+BAD_HOUSE_SETS = odd_beside(is_set_in(HOUSES), ('a', 'd'), ('b', 'a'), ('a', 'a'), ['a'], 'ab', ('a', ['b']), (('a',),))
+BAD_TEXTS = [value for value in ODD if type(value) is not str] + [['letters'], ('letters a b',)]
+
+MACHINE = ('machine', DIAL, BAD_MACHINES)
+STATE = ('state', 1, BAD_STATES)
+OTHER = ('other', 2, BAD_STATES)
+LOOK = ('look', 'low', BAD_LOOKS_ONE)
+SOME_LOOKS = ('looks', ('high', 'low'), BAD_LOOKS)
+AGE = ('age', 2, BAD_NUMBERS)
+MANY = ('many', 2, BAD_NUMBERS)
+TRUST = ('trust', THREE, BAD_TRUSTS)
+HOUSE = ('house', 'a', BAD_HOUSES)
+FALL = ('fall', ('b',), BAD_HOUSE_SETS)
+
+CALLS = [
+    (lets_clocks, [TRUST]),
+    (next_state, [MACHINE, STATE, ('letter', 'up', BAD_LETTERS)]),
+    (made_of, [MACHINE, STATE, ('row', ('up', 'down'), BAD_ROWS)]),
+    (answer_of, [MACHINE, STATE, LOOK]),
+    (only_looks, [MACHINE, ('looks', ('low',), BAD_LOOKS + [()])]),
+    (
+        renumbered,
+        [
+            MACHINE,
+            ('states', (2, 0, 1), ODD + [(0, 1), (0, 1, 2, 2), [0, 1, 2], (0, True, 2), (0, 0, 2), (0, 1, 3), (0, 1, 2, 0)]
+             + [(-1, 0, 1), (0, 1, None), (False, 1, 2), (0, 1, '2'), (0, 1, [2])]),
+        ],
+    ),
+    (
+        renamed_machine,
+        [
+            MACHINE,
+            ('letters', ('z', 'y'), odd_beside(are_two_names, ('z',), ('z', 'y', 'x'), ['z', 'y'], ('z', 'any'), ('z', 'z'))),
+            ('looks', ('b', 'a'), odd_beside(are_two_names, ('z',), ('z', 'y', 'x'), ['z', 'y'], ('A', 'z'), ('z', ['y']))),
+        ],
+    ),
+    (
+        side_by_side,
+        [
+            MACHINE,
+            (
+                'other', (LETTERS, ('mid',), ((0, 0),), ((1,),)),
+                BAD_MACHINES + [DIAL, LAMP, (LETTERS, ('low',), ((0, 0),), ((1,),)), (LETTERS, ('aa', 'high'), ((0, 0),), ((1, 1),))],
+            ),
+        ],
+    ),
+    (houses_of, [TRUST]),
+    (lots_at, [TRUST, HOUSE]),
+    (fears_at, [TRUST, HOUSE]),
+    (with_lot, [TRUST, HOUSE, ('lot', ('b',), BAD_HOUSE_SETS + [()])]),
+    (with_fear, [TRUST, HOUSE, ('fear', ('b', 'c'), BAD_HOUSE_SETS + [('a',), ('a', 'b'), ('a', 'b', 'c')])]),
+    (
+        renamed_trust,
+        [
+            TRUST,
+            ('names', (('a', 'b'), ('b', 'a')), [value for value in ODD if value != ()] + [
+                (('a', 'b'),), (('a', 'c'), ('b', 'c')), (('a', 'x'), ('a', 'y')), (('b', 'x'), ('a', 'y')), (('d', 'x'),),
+                (('a', 'any'),), (('a', 'X'),), (['a', 'x'],), [('a', 'x')], (('a', 'x', 'y'),), (('a',),), (('a', ['x']),),
+                (('a', 'x'), ('a', 'x')), ((['a'], 'x'),), (('a', None),), ('ax',), (('a', 'abcdefghi'),),
+            ]),
+        ],
+    ),
+    (machine_text, [MACHINE]),
+    (book_text, [('book', SMALL, ODD + [value for value in changes_of(SMALL) if not plain.is_book(value)])]),
+    (reachable_states, [MACHINE]),
+    (row_to, [MACHINE, STATE]),
+    (alike_classes, [MACHINE, SOME_LOOKS]),
+    (are_alike, [MACHINE, STATE, OTHER, SOME_LOOKS]),
+    (parting_row, [MACHINE, STATE, OTHER, SOME_LOOKS]),
+    (
+        starts_alike,
+        [
+            MACHINE,
+            ('other', DIAL, BAD_MACHINES + [LAMP, (LETTERS, ('low',), ((0, 0),), ((1,),)), (('a', 'up'),) + DIAL[1:]]),
+        ],
+    ),
+    (least_machine, [MACHINE]),
+    (folded, [MACHINE]),
+    (moves_past, [MACHINE, LOOK, AGE]),
+    (least_look_age, [MACHINE, LOOK]),
+    (moving_walk, [MACHINE, LOOK, AGE]),
+    (is_moving, [MACHINE, LOOK, AGE]),
+    (settles, [MACHINE, SOME_LOOKS, MANY]),
+    (right_many, [MACHINE, SOME_LOOKS]),
+    (unlike_walk, [MACHINE, SOME_LOOKS, MANY]),
+    (partings_of, [MACHINE, SOME_LOOKS, MANY]),
+    (alike_paper, [MACHINE, STATE, OTHER, SOME_LOOKS]),
+    (lets_alike, [MACHINE, STATE, OTHER, SOME_LOOKS]),
+    (Walk, [MACHINE, STATE, ('row', ('up',), BAD_ROWS)]),
+    (is_safe, [TRUST, HOUSE, FALL]),
+    (safe_houses, [TRUST, FALL]),
+    (greatest_falls, [TRUST, HOUSE]),
+    (common_falls, [TRUST, HOUSE, ('other', 'c', BAD_HOUSES)]),
+]
+JUDGING = {lets_clocks: (), is_moving: ((), ('up',)), lets_alike: ('alike', (0, 1, 2))}
+
+
+class Parameters(Case):
+    def arguments(self, call, parameters):
+        values = [value for _, value, _ in parameters]
+        names = [name for name, _, _ in parameters]
+        if call in JUDGING:
+            values.append(JUDGING[call])
+            names.append('thing')
+        return names, values
+
+    def test_each_parameter_alone(self):
+        for call, parameters in CALLS:
+            names, values = self.arguments(call, parameters)
+            for k, (name, _, bad) in enumerate(parameters):
+                for value in bad:
+                    with self.subTest(call=call.__name__, name=name, value=value):
+                        late = values[:k] + [value] + values[k + 1 :]
+                        self.refused(name, call, *late)
+                        self.refused(name, call, **dict(zip(names, late)))
+
+    def test_two_at_once(self):
+        for call, parameters in CALLS:
+            names, values = self.arguments(call, parameters)
+            for one, two in combinations(range(len(parameters)), 2):
+                late = list(values)
+                for first in parameters[one][2][:40]:
+                    for second in parameters[two][2][-3:]:
+                        late[one], late[two] = first, second
+                        self.refused(parameters[one][0], call, *late)
+                        self.refused(parameters[one][0], call, **dict(zip(reversed(names), reversed(late))))
+
+    def test_all_wrong(self):
+        for call, parameters in CALLS:
+            names, values = self.arguments(call, parameters)
+            late = [None] * len(parameters) + [None] * (call in JUDGING)
+            self.refused(names[0], call, *late)
+
+    def test_right_ones_by_name_too(self):
+        for call, parameters in CALLS:
+            names, values = self.arguments(call, parameters)
+            if call in (lets_alike,):
+                values[3] = ()
+                values[4] = ('alike', (0, 0, 0))
+            self.same(call(*values), call(**dict(zip(names, values))))
+            self.same(call(*values), call(**dict(zip(reversed(names), reversed(values)))))
+
+    def test_things_are_judged_ahead_of_nothing(self):
+        """A thing that is wrong, too, is not looked at before the parameters."""
+        for thing in ODD:
+            self.refused('machine', is_moving, None, 'low', 1, thing)
+            self.refused('age', is_moving, DIAL, 'low', True, thing)
+            self.refused('trust', lets_clocks, None, thing)
+            self.refused('looks', lets_alike, DIAL, 0, 1, ('zz',), thing)
+
+    def test_texts(self):
+        for call in (machine_read, book_read):
+            for value in BAD_TEXTS:
+                self.refused('text', call, value)
+                self.refused('text', call, text=value)
+        self.same(machine_read(text=machine_text(LAMP)), LAMP)
+        self.same(book_read(text=book_text(BOOK)), BOOK)
+
+    def test_great_numbers_are_let(self):
+        great = 10 ** 60 - 1
+        self.same(moves_past(LAMP, 'lit', great), True)
+        self.same(moves_past(DIAL, 'high', 0), True)
+        self.same(settles(LAMP, ('lit',), great), True)
+        self.same(settles(DIAL, ('low',), great), False)
+        self.same(unlike_walk(LAMP, ('lit',), great), None)
+        self.same(is_moving(LAMP, 'lit', great, ((), ('on',))), False)
