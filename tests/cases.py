@@ -1,6 +1,5 @@
 """A test case that looks at results to the kind, and at errors to the field."""
 
-import copy
 import unittest
 
 from actasone.errors import InvalidPaper, InvalidText, NotUsable

@@ -89,8 +89,8 @@ CALLS = [
         renamed_machine,
         [
             MACHINE,
-            ('letters', ('z', 'y'), odd_beside(are_two_names, ('z',), ('z', 'y', 'x'), ['z', 'y'], ('z', 'any'), ('z', 'z'))),
-            ('looks', ('b', 'a'), odd_beside(are_two_names, ('z',), ('z', 'y', 'x'), ['z', 'y'], ('A', 'z'), ('z', ['y']))),
+            ('letters', ('z', 'y'), odd_beside(are_two_names, ('z',), ('z', 'y', 'x'), ['z', 'y'], ('z', 'any'), ('z', 'z'), ('z', 'y', 'y'))),
+            ('looks', ('b', 'a'), odd_beside(are_two_names, ('z',), ('z', 'y', 'x'), ['z', 'y'], ('A', 'z'), ('z', ['y']), ('y', 'z', 'y'))),
         ],
     ),
     (

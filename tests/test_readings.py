@@ -2,13 +2,13 @@
 
 from random import Random
 
+from actasone.errors import InvalidText
 from actasone.kinds import is_book, is_machine
 from actasone.readings import book_read, machine_read
 from actasone.texts import book_text, machine_text
-from actasone.errors import InvalidText
 from tests.cases import Case
 from tests.samples import (
-    BOOK, CALM, DIAL, DIGITS60, FOUR, LAMP, LONE, LOOKS, NEAR, ROUND, SMALL, SPARE, THREE, WIDE, large_machines,
+    BOOK, CALM, DIAL, DIGITS60, FOUR, LAMP, LONE, ROUND, SMALL, SPARE, THREE, WIDE, large_machines,
     small_machines, some_of, trusts,
 )
 
@@ -296,6 +296,8 @@ class Books(Case):
         self.rest(2, 'gap b c 1', 'gap b c 1')
         self.rest(2, 'gap b c 1', 'gap a b x')
         self.rest(3, 'gap a b 1', 'gap b c')
+        self.rest(2, 'gap a b 9', 'gap b c 9', 'gap b a 9')
+        self.rest(2, 'gap a c 9', 'gap c a 9', 'gap b a 9')
         self.same(book_read(CALM_TEXT + '\ngap a b -' + LONG)[2], (('a', 'b', -int(LONG)),))
         self.same(book_read(CALM_TEXT + '\ngap a b 0\ngap b a 0\ngap c a 7\ngap c b 7')[2][1:3], (('b', 'a', 0), ('c', 'a', 7)))
 
@@ -316,7 +318,7 @@ class Books(Case):
             (' a lit - -0', 4), (' a lit - Any', 4), (' a lit - ' + LONGER, 4), (' a lit - any b:1', 5), (' a lit - any ', 5),
             (' a lit - 1 ', 5), (' a lit - 1 b', 5), (' a lit - 1 b:', 5), (' a lit - 1 :1', 5), (' a lit - 1 b:1:2', 5),
             (' a lit - 1 d:1', 5), (' a lit - 1 b:x', 5), (' a lit - 1 b:any', 5), (' a lit - 1 b:01', 5), (' a lit - 1 b:-0', 5),
-            (' a lit - 1 b:' + LONGER, 5), (' a lit - 1 b:1 b:2', 6), (' a lit - 1 c:1 b:2', 6), (' a lit - 1 b:1 ', 6),
+            (' a lit - 1 b:' + LONGER, 5), (' a lit - 1 b:1 b:2', 6), (' a lit - 1 c:1 b:2', 6), (' a lit - 1 a:1 c:1 b:2', 7), (' a lit - 1 b:1 ', 6),
             (' a lit - 1 b : 1', 5), (' a lit - 1 b:1,c:2', 5), (' a lit - 1 a:1 b:2 c', 7), (' a lit - x b', 4), (' a lit - 1 b:+1', 5),
         ):
             self.rest(field, 'looking' + words)

@@ -22,6 +22,8 @@ class Walks(Case):
         self.same([(p, q) for p in walk for q in walk], [(p, q) for p in states for q in states])
         self.same([state in walk for state in range(len(machine[2]))], [s in states for s in range(len(machine[2]))])
         self.same([walk[look] for look in machine[1]], [answer_of(machine, states[-1], look) for look in machine[1]])
+        for late in plain.rows_up_to(machine, 2):
+            self.same(walk(late), made_of(machine, states[-1], late))
         self.same([walk == Walk(machine, begin, row), walk != Walk(machine, begin, row)], [True, False])
 
     def test_example(self):
