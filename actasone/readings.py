@@ -50,9 +50,9 @@ class Told:
     def __init__(self, text):
         self.rows = [line.split(" ") for line in text.split("\n")]
         self.state_count = len([row for row in self.rows if row[0] == "state"])
-        # An empty word cannot stand anywhere, not as a house either.
+        # A second word that is no name is no house, in its own line and in all others.
         seconds = [row[1] for row in self.rows if row[0] == "house" and len(row) > 1]
-        self.house_words = [name for name in seconds if name != ""]
+        self.house_words = [name for name in seconds if is_name(name)]
         self.parts = {word: [] for word in BEHIND if word != ""}
 
 

@@ -276,10 +276,32 @@ class Books(Case):
         self.no(5, 2, LAMP_TEXT + '\nhouse a : a : -\ngap a b 1')
 
     def test_a_house_that_is_no_name(self):
-        """It is the second word of its line, so only there it cannot stand."""
-        self.no(5, 1, LAMP_TEXT + '\nhouse a : any : -\nhouse any : a : -')
-        self.no(5, 1, LAMP_TEXT + '\nhouse a : a,bbbbbbbbb : -\nhouse bbbbbbbbb : a : -')
+        """It cannot stand in its own line, nor in any line ahead."""
+        self.no(4, 3, LAMP_TEXT + '\nhouse a : any : -\nhouse any : a : -')
+        self.no(4, 3, LAMP_TEXT + '\nhouse a : a,bbbbbbbbb : -\nhouse bbbbbbbbb : a : -')
         self.no(4, 3, LAMP_TEXT + '\nhouse a : ,a : -\nhouse  : a : -')
+        self.no(4, 3, LAMP_TEXT + '\nhouse a : : c : -\nhouse : a,c c : - a')
+        self.no(4, 5, LAMP_TEXT + '\nhouse a : a : a1\nhouse a1 : a : -')
+        self.no(4, 3, LAMP_TEXT + '\nhouse a : -,a : -\nhouse - : a : -')
+        self.no(5, 1, LAMP_TEXT + '\nhouse a : a : -\nhouse A : a : -')
+        self.no(5, 1, LAMP_TEXT + '\nhouse a : a : -\nhouse : : a : -')
+
+    def test_a_house_that_is_no_name_in_the_lines_of_rules(self):
+        for word in ('B', 'any', 'bbbbbbbbb', 'b1', ':', 'b,c', ''):
+            behind = '\nhouse ' + word + ' : a : -'
+            for line, field in (
+                ('gap a ' + word + ' 2', 2), ('gap ' + word + ' a 2', 1), ('looking ' + word + ' lit - any', 1),
+                ('looking a lit a,' + word + ' any', 3), ('looking a lit - 10 ' + word + ':12', 5),
+                ('looking a lit - 10 a:9 ' + word + ':12', 6), ('waking ' + word + ' 1', 1),
+            ):
+                if word != 'b,c' or 'lit a,' not in line:
+                    self.no(7, field, CALM_TEXT + '\n' + line + behind)
+        self.no(7, 3, CALM_TEXT + '\nlooking a lit B any\nhouse B : a : -')
+        self.no(7, 5, CALM_TEXT + '\nlooking a lit - 10 b:c:12\nhouse b:c : a : -')
+
+    def test_a_name_of_a_later_line_is_a_house_in_the_lines_of_rules(self):
+        for line in ('gap a d 2', 'looking d lit - any', 'looking a lit a,d any', 'looking a lit - 10 d:12', 'waking d 1'):
+            self.no(8, 0, CALM_TEXT + '\n' + line + '\nhouse d : a : -')
 
     def test_gaps(self):
         for words, field in (
