@@ -25,6 +25,10 @@ def greatest_falls(trust, house):
 def common_falls(trust, house, other):
     need_house(trust, house)
     need(other in house_names(trust), "other")
+    return falls_of_both(trust, house, other)
+
+
+def falls_of_both(trust, house, other):
     fears = entry_of(trust, house)[2]
     late = entry_of(trust, other)[2]
     # A common part is without both houses, as neither one fears itself.
@@ -36,6 +40,13 @@ def is_safe_entry(entry, fall):
     return house not in fall and any([lies_within(fall, fear) for fear in fears])
 
 
+def is_fall_of_both(trust, house, other, thing):
+    """Whether any value is a fall in which both houses are safe."""
+    if not is_set_of(thing, house_names(trust)):
+        return False
+    return is_safe_entry(entry_of(trust, house), thing) and is_safe_entry(entry_of(trust, other), thing)
+
+
 def lies_within(one, other):
     return all([house in other for house in one])
 
@@ -44,6 +55,17 @@ def common_part(one, other):
     return tuple(house for house in one if house in other)
 
 
+def left_of(one, other):
+    """The one set without the other."""
+    return tuple(house for house in one if house not in other)
+
+
 def greatest_of(sets):
     """Those of the sets that lie in no other one of them."""
     return tuple(one for one in sets if not any([one != other and lies_within(one, other) for other in sets]))
+
+
+def least_of(sets):
+    """The set of those of the sets that have no other one of them within them."""
+    unlike = sorted(set(sets))
+    return tuple(one for one in unlike if not any([one != other and lies_within(other, one) for other in unlike]))

@@ -80,8 +80,18 @@ def are_numbers(thing, many):
     return is_tuple(thing, many) and all([is_number(number) for number in thing])
 
 
+def are_integers(thing, many):
+    """Whether any value is a tuple of so many integers."""
+    return is_tuple(thing, many) and all([is_integer(part) for part in thing])
+
+
+def is_index(thing, things):
+    """Whether any value is an index of a sequence of the package."""
+    return is_number(thing) and thing < len(things)
+
+
 def is_state(machine, thing):
-    return is_number(thing) and thing < len(machine[2])
+    return is_index(thing, machine[2])
 
 
 def is_row(machine, thing):
@@ -122,9 +132,7 @@ def clocks_fault(thing, names):
     if not isinstance(thing, tuple):
         return ("shape", -1)
     for k, triple in enumerate(thing):
-        if not is_gap(triple):
-            return ("triple", k)
-        if names is not None and not (triple[0] in names and triple[1] in names):
+        if not is_gap(triple) or (names is not None and not is_bound_of(triple, names)):
             return ("triple", k)
         if k > 0 and triple[:2] <= thing[k - 1][:2]:
             return ("order", k)
@@ -139,6 +147,11 @@ def is_gap(thing):
     if not is_tuple(thing, 3) or not is_name(thing[0]) or not is_name(thing[1]):
         return False
     return thing[0] != thing[1] and is_integer(thing[2])
+
+
+def is_bound_of(thing, names):
+    """Whether any value is a bound of two of these names."""
+    return is_gap(thing) and thing[0] in names and thing[1] in names
 
 
 def first_triangle(triples):

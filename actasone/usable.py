@@ -1,7 +1,18 @@
 """What parameters, and papers, have to be: the error that tells the first thing that is not so."""
 
 from actasone.errors import InvalidPaper, NotUsable
-from actasone.kinds import house_names, is_machine, is_set_of, is_state, is_trust
+from actasone.kinds import (
+    are_names,
+    are_promises,
+    house_names,
+    is_bound_of,
+    is_clocks,
+    is_machine,
+    is_name,
+    is_set_of,
+    is_state,
+    is_trust,
+)
 
 
 def need(holds, word):
@@ -49,3 +60,33 @@ def need_trust(trust):
 def need_house(trust, house):
     need_trust(trust)
     need(house in house_names(trust), "house")
+
+
+def need_lot(trust, house, lot):
+    need_house(trust, house)
+    need(is_set_of(lot, house_names(trust)), "lot")
+
+
+def need_bounds(houses, bounds):
+    need(are_names(houses, 0), "houses")
+    right = isinstance(bounds, tuple) and all([is_bound_of(bound, houses) for bound in bounds])
+    need(right, "bounds")
+
+
+def need_clocks(clocks):
+    need(is_clocks(clocks), "clocks")
+
+
+def need_clocks_of(clocks, houses):
+    need_clocks(clocks)
+    need(are_names(houses, 0), "houses")
+    need(all([is_bound_of(triple, houses) for triple in clocks]), "houses")
+
+
+def need_sets(clocks, house, sets, lot, promises):
+    """What the longest end is asked for: of any names."""
+    need_clocks(clocks)
+    need(is_name(house), "house")
+    need(isinstance(sets, tuple) and all([are_names(part, 0) for part in sets]), "sets")
+    need(are_names(lot, 0), "lot")
+    need(are_promises(promises), "promises")

@@ -37,3 +37,11 @@ class Case(unittest.TestCase):
 
     def unread(self, line, field, call, *args):
         self.raised(InvalidText, {'line': line, 'field': field}, call, *args)
+
+    def judged(self, wanted, call, *args):
+        """A checker says what is wanted: a list with its result, or the word and the place."""
+        if isinstance(wanted, list):
+            self.same(call(*args), wanted[0])
+        else:
+            self.wrong(wanted[0], wanted[1], call, *args)
+        return wanted[0] if isinstance(wanted, tuple) else 'let'

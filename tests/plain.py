@@ -1,6 +1,7 @@
 """What values are and what results have to be, told slowly, straight from the definitions."""
 
 import re
+from functools import lru_cache
 from itertools import combinations, product
 
 
@@ -202,6 +203,7 @@ def parting(machine, looks, many):
     return tuple(told)
 
 
+@lru_cache(None)
 def all_falls(trust):
     houses = [part[0] for part in trust]
     return sorted(fall for k in range(len(houses) + 1) for fall in combinations(houses, k))
@@ -214,3 +216,96 @@ def is_safe(trust, house, fall):
 
 def greatest(sets):
     return tuple(sorted(one for one in sets if not any(set(one) < set(other) for other in sets)))
+
+
+def houses_of(trust):
+    return [part[0] for part in trust]
+
+
+def pairs_of(trust):
+    return [(house, index) for house, lots, _ in trust for index in range(len(lots))]
+
+
+def is_pair(trust, value):
+    return is_tuple(value, 2) and is_integer(value[1]) and any(
+        told(value) == told(pair) for pair in pairs_of(trust)
+    )
+
+
+def told(value):
+    """With its kind, so that True is not 1."""
+    return (type(value).__name__, [told(part) for part in value] if isinstance(value, (tuple, list)) else value)
+
+
+def is_fall(trust, value):
+    return is_set(value, lambda part: type(part) is str and part in houses_of(trust))
+
+
+def lot_of(trust, pair):
+    return set(dict((house, lots) for house, lots, _ in trust)[pair[0]][pair[1]])
+
+
+@lru_cache(None)
+def falls_of_both(trust, one, other):
+    return [fall for fall in all_falls(trust) if is_safe(trust, one, fall) and is_safe(trust, other, fall)]
+
+
+def is_odds_fall(trust, one, other, fall):
+    safe = is_safe(trust, one[0], fall) and is_safe(trust, other[0], fall)
+    return safe and lot_of(trust, one) & lot_of(trust, other) <= set(fall)
+
+
+def all_odds(trust):
+    pairs = pairs_of(trust)
+    return tuple(
+        (one, other)
+        for one in pairs
+        for other in pairs
+        if one <= other and any(is_odds_fall(trust, one, other, fall) for fall in all_falls(trust))
+    )
+
+
+def without_pairs(trust, pairs):
+    """None if a house has no lot left."""
+    late = tuple(
+        (house, tuple(lot for k, lot in enumerate(lots) if (house, k) not in pairs), fears) for house, lots, fears in trust
+    )
+    return late if all(part[1] for part in late) else None
+
+
+def fewest_dropped(trust):
+    """How few pairs, over all sets of them; None if no set of them will do."""
+    odds = all_odds(trust)
+    for many in range(len(pairs_of(trust)) + 1):
+        for pairs in combinations(pairs_of(trust), many):
+            if all(one in pairs or other in pairs for one, other in odds) and without_pairs(trust, pairs) is not None:
+                return many
+    return None
+
+
+@lru_cache(None)
+def all_needed(trust, house):
+    return {
+        tuple(sorted(lot_of(trust, pair) - set(fall)))
+        for pair in pairs_of(trust)
+        if pair[0] != house
+        for fall in falls_of_both(trust, house, pair[0])
+    }
+
+
+def least(sets):
+    return tuple(sorted(one for one in sets if not any(set(other) < set(one) for other in sets)))
+
+
+@lru_cache(None)
+def needs_of(trust, house):
+    return least(all_needed(trust, house))
+
+
+def meets(needs, lot):
+    return all(set(part) & set(lot) for part in needs)
+
+
+def least_lots(trust, house):
+    needs = all_needed(trust, house)
+    return least([lot for lot in all_falls(trust) if meets(needs, lot)])

@@ -20,6 +20,7 @@ FEARS = (
 )
 FOUR = (('a', TRIOS, FEARS[0]), ('b', TRIOS, FEARS[1]), ('c', TRIOS, FEARS[2]), ('d', TRIOS, FEARS[3]))
 LONE = (('a', (('b',),), (('b',),)), ('b', (('b',),), ((),)))
+LAMED = (('a', (('b',),), ((),)), ('b', (('a',),), (('a',),)))
 TURN = (('hold', 'turn'), ('lit',), ((0, 1), (1, 0)), ((0,), (1,)))
 # State 3 is reached from nowhere, nothing leads back to the start, and 2 and 4 are alike.
 WIDE = (
@@ -37,6 +38,23 @@ LOOKS = (
     ('a', LIT, (), 10, (('b', 11), ('c', 12))),
 )
 BOOK = (LAMP, CALM, NEAR, LOOKS, (('a', 1),))
+VOTES = (('vote', 0, 'a', 0, 'on'), ('vote', 0, 'b', 0, 'on'), ('learn', 1, 'a', ('a', 'b'), 0, 'on'))
+PLAIN = ((), (0, 0, 0), VOTES + (('begin', 1, 'b', 1, 'lit'), ('told', 1, 3, 'c', 0), ('answer', 1, 3, 0)))
+LATE = (
+    (), (0, 0, 0),
+    VOTES + (
+        ('begin', 1, 'b', 1, 'lit'), ('vote', 1, 'c', 0, 'on'), ('learn', 2, 'b', ('a', 'b'), 0, 'on'), ('told', 2, 3, 'c', 1),
+        ('answer', 2, 3, 1),
+    ),
+)
+LEASED = (
+    (), (0, 0, 0),
+    (
+        ('promise', 3, 'b', 2), ('says', 3, 'b', 2, 0), ('promise', 3, 'c', 2), ('says', 3, 'c', 2, 0), ('begin', 10, 'a', 2, 'lit'),
+        ('answer', 10, 4, 0),
+    ),
+)
+SLEPT = ((), (0, 0, 0), VOTES + (('sleep', 2, 'a'), ('count', 3, 'a', 0, 0, 1)))
 DIGITS60 = 10 ** 60 - 1
 DEEP = ()
 for _ in range(39):
@@ -135,3 +153,44 @@ def trusts(many=60, seed=3):
     random = Random(seed)
     for k in range(many):
         yield trust_by_turns(random, 1 + k % 5)
+
+
+def full_trusts(many=20, seed=5):
+    """Trusts of five houses with four lots and three fears for each, some with few odds."""
+    random = Random(seed)
+    houses = ('a', 'b', 'c', 'd', 'e')
+    for k in range(many):
+        most = 1 + k % 3
+        trust = []
+        for house in houses:
+            lots, fears = set(), set()
+            while len(lots) < 4:
+                lots.add(tuple(sorted(random.sample(houses, random.randint(1 + k % 4, 4)))) if k % 4 < 3 else houses[:1] + some_of(random, houses[1:]))
+            others = [other for other in houses if other != house]
+            while len(fears) < 3:
+                fears.add(tuple(sorted(random.sample(others, random.randint(0 if k % 2 else 1, most)))))
+            trust.append((house, set_of(lots), set_of(fears)))
+        yield tuple(trust)
+
+
+def renamed_houses(trust, names):
+    late = dict(zip([entry[0] for entry in trust], names))
+    sets = lambda told: tuple(tuple(late[house] for house in one) for one in told)
+    return tuple((late[house], sets(lots), sets(fears)) for house, lots, fears in trust)
+
+
+ABC, BOUNDS = ('a', 'b', 'c'), (('a', 'b', 2), ('b', 'c', 3), ('c', 'a', 1), ('a', 'c', 9))
+TABLE = (('a', 'b', 2), ('a', 'c', 5), ('b', 'a', 4), ('b', 'c', 3), ('c', 'a', 1), ('c', 'b', 3))
+
+
+def bounds_by_turns(random, houses, many, low=-2, high=4):
+    pairs = [(one, other) for one in houses for other in houses if one != other]
+    return tuple(random.choice(pairs) + (random.randint(low, high),) for _ in range(many if pairs else 0))
+
+
+def some_bounds(many=150, seed=7):
+    """Houses and bounds of them: few and many, with pairs that have several, with and without rings."""
+    random = Random(seed)
+    for k in range(many):
+        houses = ('a', 'b', 'c', 'd', 'e')[: 1 + k % 5]
+        yield houses, bounds_by_turns(random, houses, random.randint(0, 3 + 2 * len(houses)), -random.randint(0, 4), random.randint(1, 6))

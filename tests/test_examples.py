@@ -76,6 +76,98 @@ raises InvalidPaper(word='letter', at=(3, 1))
 [(('b',), ('c',)), (('c',),), ((),), (('c',), ('d',))]
 >>> is_safe(THREE, 'd', ())
 raises NotUsable(word='house', at=-1)
+
+>>> from actasone.odds import all_odds, least_dropped, odds_fall, without_pairs
+>>> [odds_fall(THREE, ('a', 1), ('b', 2)), odds_fall(THREE, ('a', 0), ('a', 2)), odds_fall(THREE, ('a', 0), ('b', 0)), len(all_odds(THREE))]
+[('c',), ('b',), None, 12]
+>>> [all_odds(CALM), all_odds(FOUR), least_dropped(FOUR), without_pairs(THREE, (('a', 0), ('a', 2)))[0]]
+[(), (), (), ('a', (('a', 'c'),), (('b',), ('c',)))]
+>>> LONE = (('a', (('b',),), (('b',),)), ('b', (('b',),), ((),)))
+>>> [all_odds(LONE), least_dropped(LONE)]
+[((('a', 0), ('a', 0)),), None]
+>>> without_pairs(LONE, (('a', 0),))
+raises NotUsable(word='pairs', at=-1)
+
+>>> from actasone.needs import fewest_lot, first_missed, least_lots, meets_needs, needs_of
+>>> [needs_of(CALM, 'a'), needs_of(THREE, 'a'), least_lots(CALM, 'a'), least_lots(THREE, 'a')]
+[(('a', 'b'), ('a', 'c'), ('b', 'c')), (('a',), ('b',), ('c',)), (('a', 'b'), ('a', 'c'), ('b', 'c')), (('a', 'b', 'c'),)]
+>>> [len(needs_of(FOUR, 'a')), least_lots(FOUR, 'a') == TRIOS, meets_needs(FOUR, 'a', ('b', 'd')), first_missed(FOUR, 'a', ('b', 'd'))]
+[6, True, False, ('a', 'c')]
+>>> LAMED = (('a', (('b',),), ((),)), ('b', (('a',),), (('a',),)))
+>>> [needs_of(LAMED, 'a'), needs_of(LAMED, 'b'), least_lots(LAMED, 'a'), needs_of((('a', (('a',),), ((),)),), 'a'), least_lots((('a', (('a',),), ((),)),), 'a')]
+[(('a',),), (('b',),), (('a',),), (), ((),)]
+
+>>> from actasone.trustchecker import lets_needs, lets_odds
+>>> from actasone.trustpapers import needs_paper, odds_paper
+>>> from actasone.trustsalike import parting_lot, trusts_alike
+>>> [trusts_alike(CALM, CALM), trusts_alike(CALM, THREE), lets_odds(THREE, ('odds', ('a', 1), ('b', 2), ('c',))), lets_odds(FOUR, odds_paper(FOUR)), lets_needs(FOUR, 'a', needs_paper(FOUR, 'a'))]
+[True, False, True, False, 6]
+>>> lets_odds(THREE, ('calm',))
+raises InvalidPaper(word='calm', at=(('a', 0), ('a', 2)))
+>>> lets_needs(CALM, 'a', ((('a', 'b'), 'b', 0, ()),))
+raises InvalidPaper(word='lacks', at=('b', 1))
+
+>>> from actasone.boundtables import gap_of, table_of, way_of
+>>> from actasone.clockchecker import lets_table
+>>> from actasone.clockpapers import table_paper
+>>> ABC, BOUNDS = ('a', 'b', 'c'), (('a', 'b', 2), ('b', 'c', 3), ('c', 'a', 1), ('a', 'c', 9))
+>>> TABLE = table_of(ABC, BOUNDS)
+>>> TABLE
+(('a', 'b', 2), ('a', 'c', 5), ('b', 'a', 4), ('b', 'c', 3), ('c', 'a', 1), ('c', 'b', 3))
+>>> [gap_of(TABLE, 'b', 'a'), gap_of(TABLE, 'a', 'd'), way_of(ABC, BOUNDS, 'a', 'c')]
+[4, 'any', ('a', 'b', 'c')]
+>>> lets_table(ABC, BOUNDS, table_paper(ABC, BOUNDS))
+True
+>>> table_of(ABC, (('b', 'a', -3), ('a', 'b', 2)))
+raises NoTable(ring=('a', 'b'), total=-1)
+
+>>> from actasone.extremes import extreme_setting, least_until, surely_before
+>>> from actasone.settings import any_setting, fits
+>>> [extreme_setting(TABLE, ABC, 'a', -9), fits(TABLE, ABC, (0, -4, -2)), fits(TABLE, ABC, any_setting(TABLE, ABC))]
+[(0, -4, -1), False, True]
+>>> [surely_before(TABLE, 'a', 10, 'b', 13), least_until(TABLE, 'a', 10, 'b'), least_until((), 'a', 10, 'b')]
+[False, 14, None]
+
+>>> from actasone.longestchecker import lets_longest
+>>> from actasone.longestends import longest_for
+>>> SETS, UNTILS = (('a', 'b'), ('a', 'c'), ('b', 'c')), (('b', 14), ('c', 12))
+>>> [longest_for(TABLE, 'a', SETS, ('a',), UNTILS), longest_for(TABLE, 'a', SETS, (), UNTILS), longest_for(TABLE, 'a', SETS, ('a', 'b'), ())]
+[11, 10, 'any']
+>>> lets_longest(TABLE, 'a', SETS, ('a',), UNTILS, ('longest', 11, ('a', 'a', 'c'), 2))
+11
+
+>>> from actasone.clockchanges import turned_clocks, with_bound, without_house
+>>> from actasone.clockclasses import Clocks
+>>> [with_bound(TABLE, ('b', 'a', 0))[2], without_house(TABLE, 'c'), turned_clocks((('a', 'b', 2),))]
+[('b', 'a', 0), (('a', 'b', 2), ('b', 'a', 4)), (('b', 'a', 2),)]
+>>> it = Clocks(ABC, *BOUNDS)
+>>> [it('c', 'b'), ('a', 'c', 5) in it, it == Clocks(ABC, *TABLE), (it + ('b', 'a', 0))('b', 'a')]
+[3, True, True, 0]
+
+>>> from actasone.runchecker import lets_run
+>>> NEAR = (('a', 'b', 2), ('a', 'c', 2), ('b', 'a', 2), ('b', 'c', 2), ('c', 'a', 2), ('c', 'b', 2))
+>>> LIT, ANY = ('lit',), 'any'
+>>> LOOKS = (('a', LIT, ('a', 'b'), ANY, ()), ('b', LIT, ('c',), ANY, ()), ('a', LIT, (), 10, (('b', 12), ('c', 12))), ('a', LIT, (), 10, (('b', 11), ('c', 12))))
+>>> BOOK = (LAMP, CALM, NEAR, LOOKS, (('a', 1),))
+>>> VOTES = (('vote', 0, 'a', 0, 'on'), ('vote', 0, 'b', 0, 'on'), ('learn', 1, 'a', ('a', 'b'), 0, 'on'))
+>>> PLAIN = ((), (0, 0, 0), VOTES + (('begin', 1, 'b', 1, 'lit'), ('told', 1, 3, 'c', 0), ('answer', 1, 3, 0)))
+>>> LATE = ((), (0, 0, 0), VOTES + (('begin', 1, 'b', 1, 'lit'), ('vote', 1, 'c', 0, 'on'), ('learn', 2, 'b', ('a', 'b'), 0, 'on'), ('told', 2, 3, 'c', 1), ('answer', 2, 3, 1)))
+>>> LEASED = ((), (0, 0, 0), (('promise', 3, 'b', 2), ('says', 3, 'b', 2, 0), ('promise', 3, 'c', 2), ('says', 3, 'c', 2, 0), ('begin', 10, 'a', 2, 'lit'), ('answer', 10, 4, 0)))
+>>> [lets_run(BOOK, PLAIN), lets_run(BOOK, LATE), lets_run(BOOK, LEASED)]
+[6, 8, 6]
+>>> lets_run(BOOK, ((), (0, 0, 0), LEASED[2] + (('vote', 11, 'b', 0, 'on'),)))
+raises InvalidPaper(word='vote', at=6)
+
+>>> from actasone.inruns import greatest_in, height_in, learned_in, state_in, votes_in
+>>> [votes_in(BOOK, PLAIN, 'b'), learned_in(BOOK, PLAIN, 'a'), height_in(BOOK, PLAIN, 'a'), state_in(BOOK, PLAIN, 'a'), height_in(BOOK, PLAIN, 'b')]
+[((0, 'on'),), ((0, 'on'),), 1, 1, 0]
+>>> SLEPT = ((), (0, 0, 0), VOTES + (('sleep', 2, 'a'), ('count', 3, 'a', 0, 0, 1)))
+>>> [learned_in(BOOK, SLEPT, 'a'), height_in(BOOK, SLEPT, 'a'), greatest_in(BOOK, SLEPT, 'a')]
+[(), None, 1]
+
+>>> from actasone.looksinruns import clash_in, looks_in
+>>> [looks_in(BOOK, PLAIN), looks_in(BOOK, LATE), looks_in(BOOK, LEASED), clash_in(BOOK, LATE)]
+[((5, 'b', 'lit', 0, 1, 1),), ((7, 'b', 'lit', 1, 1, 1),), ((5, 'a', 'lit', 0, 0, 0),), None]
 '''
 
 
@@ -104,4 +196,4 @@ class Examples(unittest.TestCase):
                     self.assertEqual(repr(vars(caught.exception)), repr(vars(error)))
                 else:
                     self.assertEqual(repr(eval(code, known)), wanted)
-        self.assertGreater(many, 15)
+        self.assertGreater(many, 40)

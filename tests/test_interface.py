@@ -48,6 +48,38 @@ FUNCTIONS = {
         'is_safe': 'trust house fall', 'safe_houses': 'trust fall', 'greatest_falls': 'trust house',
         'common_falls': 'trust house other',
     },
+    'odds': {
+        'odds_fall': 'trust one other', 'all_odds': 'trust', 'without_pairs': 'trust pairs', 'least_dropped': 'trust',
+    },
+    'needs': {
+        'needs_of': 'trust house', 'meets_needs': 'trust house lot', 'first_missed': 'trust house lot',
+        'least_lots': 'trust house', 'fewest_lot': 'trust house',
+    },
+    'trustsalike': {'trusts_alike': 'trust other', 'parting_lot': 'trust other'},
+    'trustpapers': {'odds_paper': 'trust', 'needs_paper': 'trust house'},
+    'trustchecker': {'lets_odds': 'trust thing', 'lets_needs': 'trust house thing'},
+    'boundtables': {
+        'table_of': 'houses bounds', 'gap_of': 'clocks one other', 'way_of': 'houses bounds one other',
+    },
+    'clockpapers': {'table_paper': 'houses bounds'},
+    'clockchecker': {'lets_table': 'houses bounds thing'},
+    'settings': {
+        'fits': 'clocks houses setting', 'any_setting': 'clocks houses', 'filled_setting': 'clocks houses shifts',
+    },
+    'extremes': {
+        'extreme_setting': 'clocks houses house low', 'surely_before': 'clocks house first other last',
+        'least_until': 'clocks house end other',
+    },
+    'longestends': {'longest_for': 'clocks house sets lot promises'},
+    'longestpapers': {'longest_paper': 'clocks house sets lot promises'},
+    'longestchecker': {'lets_longest': 'clocks house sets lot promises thing'},
+    'clockchanges': {'with_bound': 'clocks bound', 'without_house': 'clocks house', 'turned_clocks': 'clocks'},
+    'runkinds': {'is_run': 'book thing'},
+    'runchecker': {'lets_run': 'book thing'},
+    'inruns': {
+        word: 'book run house' for word in ('votes_in', 'learned_in', 'height_in', 'greatest_in', 'state_in')
+    },
+    'looksinruns': {'looks_in': 'book run', 'clash_in': 'book run'},
 }
 CLASSES = {
     ('machineclasses', 'Machine'): (
@@ -63,6 +95,9 @@ CLASSES = {
         'take back machine_now state_now row_now __iadd__ __add__ __call__ __getitem__ __contains__ __iter__ __len__ '
         '__str__ __eq__',
     ),
+    ('clockclasses', 'Clocks'): (
+        'houses *bounds', 'houses_now table_now __call__ __contains__ __len__ __iter__ __add__ __eq__',
+    ),
 }
 METHODS = {
     ('machineclasses', 'Machine', '__call__'): 'self state row',
@@ -73,6 +108,7 @@ METHODS = {
     ('walkclasses', 'Walk', 'take'): 'self letter',
     ('walkclasses', 'Walk', 'back'): 'self',
     ('walkclasses', 'Walk', '__call__'): 'self row',
+    ('clockclasses', 'Clocks', '__call__'): 'self one other',
 }
 
 

@@ -5,6 +5,7 @@ Some rules here are narrower than there, where the package does not need the res
 
 import ast
 import builtins
+import functools
 import keyword
 import os
 import re
@@ -39,7 +40,7 @@ NODES = (
     ast.Constant, ast.If, ast.While, ast.For, ast.Return, ast.Raise, ast.Break, ast.Continue, ast.Pass, ast.Call, ast.Attribute,
     ast.Subscript, ast.Slice, ast.BinOp, ast.UnaryOp, ast.BoolOp, ast.Compare, ast.IfExp, ast.List, ast.Tuple, ast.Dict, ast.ListComp,
     ast.DictComp, ast.SetComp, ast.GeneratorExp, ast.comprehension, ast.JoinedStr, ast.FormattedValue, ast.Starred, ast.keyword,
-    ast.expr_context, ast.operator, ast.unaryop, ast.boolop, ast.cmpop,
+    ast.expr_context, ast.operator, ast.unaryop, ast.boolop, ast.cmpop, ast.Try, ast.ExceptHandler,
 )
 LAZY = ('zip', 'enumerate', 'range', 'reversed')
 FROM_LAZY = ('list', 'tuple', 'dict', 'sorted', 'sum', 'any', 'all', 'enumerate', 'zip')
@@ -53,13 +54,16 @@ def files():
                 yield name, file.read()
 
 
+@functools.cache
 def trees():
+    told = []
     for name, text in files():
         tree = ast.parse(text)
         for node in ast.walk(tree):
             for child in ast.iter_child_nodes(node):
                 child.parent = node
-        yield name, tree
+        told.append((name, tree))
+    return told
 
 
 def called(node):
@@ -68,6 +72,11 @@ def called(node):
 
 def functions(tree):
     return [node for node in ast.walk(tree) if isinstance(node, ast.FunctionDef)]
+
+
+@functools.cache
+def classes():
+    return {node.name: node for _, tree in trees() for node in tree.body if isinstance(node, ast.ClassDef)}
 
 
 def parameters(function):
@@ -226,7 +235,9 @@ class Language(unittest.TestCase):
                 if isinstance(node, ast.Name) and node.id in vars(builtins):
                     self.assertIn(node.id, BUILTINS | {'property', 'classmethod', 'staticmethod'}, name)
                     if node.id in BUILTINS and node.id not in ('ValueError', 'int', 'str', 'tuple', 'bool', 'list'):
-                        self.assertTrue(isinstance(node.parent, ast.Call) and node.parent.func is node, (name, node.id))
+                        is_called = isinstance(node.parent, ast.Call) and node.parent.func is node
+                        is_key = isinstance(node.parent, ast.keyword) and node.parent.arg == 'key' and node.id == 'len'
+                        self.assertTrue(is_called or is_key, (name, node.id))
                 if isinstance(node, ast.Call):
                     if isinstance(node.func, ast.Attribute):
                         self.assertIn(node.func.attr, METHODS | own, name)
@@ -304,7 +315,8 @@ class Language(unittest.TestCase):
                         self.assertNotIn(ast.dump(node.value), over, (name, loop.lineno))
 
     def test_only_what_was_made_here_is_changed(self):
-        """A list or dict that is changed is a local one, made as a literal, or an attribute of self."""
+        """A list or dict that is changed was made right here, for a plain local variable, or is an
+        attribute of self."""
         for name, tree in trees():
             for function in functions(tree):
                 made = {
@@ -312,7 +324,7 @@ class Language(unittest.TestCase):
                     for node in ast.walk(function)
                     if isinstance(node, ast.Assign)
                     and isinstance(node.targets[0], ast.Name)
-                    and isinstance(node.value, (ast.List, ast.Dict))
+                    and (isinstance(node.value, (ast.List, ast.Dict, ast.ListComp)) or called(node.value) in ('list', 'dict', 'sorted'))
                 }
                 for node in ast.walk(function):
                     changed = None
@@ -321,6 +333,53 @@ class Language(unittest.TestCase):
                             changed = node.func.value
                     if isinstance(node, ast.Subscript) and isinstance(node.ctx, ast.Store):
                         changed = node.value
-                    if changed is not None and (name, function.name) != ('readings.py', 'read_lines'):
+                    if isinstance(changed, ast.Attribute) and isinstance(function.parent, ast.ClassDef):
+                        self.assertEqual(changed.value.id, function.args.args[0].arg, (name, function.name))
+                    elif changed is not None and (name, function.name) != ('readings.py', 'read_lines'):
                         self.assertIsInstance(changed, ast.Name, (name, function.name))
                         self.assertIn(changed.id, made, (name, function.name))
+
+    def test_errors_that_are_caught(self):
+        """Own errors alone, by name, around a single statement; only their fields are read."""
+        errors = {node.name for node in dict(trees())['errors.py'].body if isinstance(node, ast.ClassDef)}
+        for name, tree in trees():
+            for node in ast.walk(tree):
+                if isinstance(node, ast.Try):
+                    self.assertEqual([len(node.body), node.orelse, node.finalbody], [1, [], []], name)
+                    for handler in node.handlers:
+                        self.assertIn(handler.type.id, errors, name)
+                        for part in ast.walk(handler):
+                            if isinstance(part, ast.Name) and part.id == handler.name:
+                                self.assertIsInstance(part.parent, ast.Attribute, name)
+
+    def test_what_operators_and_properties_run(self):
+        """What they call, near or far, changes only what it made itself: nothing of an object, and
+        no dict that a comprehension made. (Making an object is let.)"""
+        bodies = {}
+        for name, tree in trees():
+            for function in functions(tree):
+                bodies.setdefault(function.name, []).append(function)
+        begun = []
+        for _, tree in trees():
+            for function in functions(tree):
+                decorators = [part.id for part in function.decorator_list]
+                if function.name in SPECIAL - {'__init__', '__call__', '__iadd__'} or decorators == ['property']:
+                    begun.append(function)
+        seen = set()
+        while begun:
+            function = begun.pop()
+            if function in seen:
+                continue
+            seen.add(function)
+            for node in ast.walk(function):
+                self.assertNotIsInstance(node, ast.AugAssign, function.name)
+                if isinstance(node, ast.Attribute) and isinstance(node.ctx, (ast.Store, ast.Del)):
+                    self.assertEqual(function.name, '__init__')
+                if isinstance(node, ast.Subscript) and isinstance(node.ctx, ast.Store):
+                    self.assertIsInstance(node.value, ast.Name, function.name)
+                if isinstance(node, ast.Call):
+                    word = node.func.id if isinstance(node.func, ast.Name) else node.func.attr
+                    self.assertNotIn(word, ('add', 'discard', 'sort'))
+                    begun += bodies.get(word, [])
+                    if word in classes():
+                        begun += [part for part in classes()[word].body if getattr(part, 'name', None) == '__init__']

@@ -7,21 +7,39 @@ from actasone.alikepapers import alike_paper
 from actasone.alikestates import (
     alike_classes, are_alike, folded, least_machine, parting_row, starts_alike,
 )
+from actasone.boundtables import gap_of, table_of, way_of
+from actasone.clockchanges import turned_clocks, with_bound, without_house
+from actasone.clockchecker import lets_table
+from actasone.clockpapers import table_paper
 from actasone.counting import partings_of, right_many, settles, unlike_walk
+from actasone.extremes import extreme_setting, least_until, surely_before
 from actasone.falls import common_falls, greatest_falls, is_safe, safe_houses
+from actasone.inruns import greatest_in, height_in, learned_in, state_in, votes_in
+from actasone.longestchecker import lets_longest
+from actasone.longestends import longest_for
+from actasone.longestpapers import longest_paper
+from actasone.looksinruns import clash_in, looks_in
 from actasone.machinechanges import only_looks, renamed_machine, renumbered, side_by_side
 from actasone.machineparts import answer_of, made_of, next_state
 from actasone.moving import is_moving, least_look_age, moves_past, moving_walk
+from actasone.needs import fewest_lot, first_missed, least_lots, meets_needs, needs_of
+from actasone.odds import all_odds, least_dropped, odds_fall, without_pairs
 from actasone.partschecker import lets_clocks
 from actasone.reaching import reachable_states, row_to
 from actasone.readings import book_read, machine_read
+from actasone.runchecker import lets_run
+from actasone.runkinds import is_run
+from actasone.settings import any_setting, filled_setting, fits
 from actasone.texts import book_text, machine_text
 from actasone.trustchanges import renamed_trust, with_fear, with_lot
+from actasone.trustchecker import lets_needs, lets_odds
+from actasone.trustpapers import needs_paper, odds_paper
 from actasone.trustparts import fears_at, houses_of, lots_at
+from actasone.trustsalike import parting_lot, trusts_alike
 from actasone.walkclasses import Walk
-from tests import plain
+from tests import plain, plainruns
 from tests.cases import Case
-from tests.samples import BOOK, CALM, DIAL, LAMP, ODD, SMALL, THREE, changes_of
+from tests.samples import BOOK, CALM, DIAL, FOUR, LAMP, LATE, LONE, ODD, SMALL, TABLE, THREE, changes_of
 
 LETTERS, LOOKS, STATES = DIAL[0], DIAL[1], (0, 1, 2)
 HOUSES = ('a', 'b', 'c')
@@ -60,6 +78,54 @@ BAD_HOUSES = odd_beside(is_in(HOUSES), 'd', ['a'], 'A', ('a',))
 BAD_HOUSE_SETS = odd_beside(is_set_in(HOUSES), ('a', 'd'), ('b', 'a'), ('a', 'a'), ['a'], 'ab', ('a', ['b']), (('a',),))
 BAD_TEXTS = [value for value in ODD if type(value) is not str] + [['letters'], ('letters a b',)]
 
+NAMES = ('a', 'b', 'c', 'x')
+
+
+def is_bound(value, houses=None):
+    if not plain.is_tuple(value, 3) or not plain.is_name(value[0]) or not plain.is_name(value[1]) or value[0] == value[1]:
+        return False
+    return plain.is_integer(value[2]) and (houses is None or value[0] in houses and value[1] in houses)
+
+
+def are_names(value):
+    return plain.is_set(value, plain.is_name)
+
+
+def are_untils(value, good=plain.is_name):
+    if not plain.is_set(value, lambda part: plain.is_tuple(part, 2) and good(part[0]) and plain.is_integer(part[1])):
+        return False
+    return len(set(part[0] for part in value)) == len(value)
+
+
+def are_pairs(value):
+    if not plain.is_set(value, lambda part: plain.is_pair(THREE, part)):
+        return False
+    return plain.without_pairs(THREE, value) is not None
+
+
+def are_bounds(value):
+    return type(value) is tuple and all(is_bound(part, NAMES) for part in value)
+
+
+def odd_among(value, good):
+    """Values of many kinds, and the value itself changed in one place, that are not good."""
+    return odd_beside(good, *[late for late in changes_of(value) if not good(late)])
+
+
+PAIRS_OF = (('a', 1), ('b', 0), ('b', 2))
+SOME_BOUNDS = (('a', 'b', 2), ('b', 'c', 3), ('a', 'b', 9))
+SOME_SETS = (('a', 'b'), (), ('x',))
+UNTILS = (('b', 14), ('c', 12))
+is_house = is_in(HOUSES)
+is_some_house = is_in(NAMES)
+BAD_PAIRS = odd_among(('a', 1), lambda value: plain.is_pair(THREE, value)) + [('d', 0), ('a', 3)]
+BAD_NAMES = odd_beside(plain.is_name, ['a'], ('a',), 'a1', 'any')
+BAD_INTEGERS = odd_beside(plain.is_integer, '1', (1,), [1])
+BAD_CLOCKS = odd_among(TABLE[:2] + TABLE[3:4], plain.is_clocks) + [BOOK, list(TABLE), TABLE[:1] + TABLE[3:4]]
+BAD_NAME_SETS = odd_among(NAMES, are_names) + [list(NAMES)]
+BAD_RUNS = ODD + [late for late in changes_of(LATE) if type(plainruns.lets_run(BOOK, late)) is tuple][::7] + [list(LATE), LATE[:2]]
+BAD_BOOKS = ODD + [late for late in changes_of(SMALL) if not plain.is_book(late)][::5] + [list(BOOK), BOOK[:4]]
+
 MACHINE = ('machine', DIAL, BAD_MACHINES)
 STATE = ('state', 1, BAD_STATES)
 OTHER = ('other', 2, BAD_STATES)
@@ -70,6 +136,21 @@ MANY = ('many', 2, BAD_NUMBERS)
 TRUST = ('trust', THREE, BAD_TRUSTS)
 HOUSE = ('house', 'a', BAD_HOUSES)
 FALL = ('fall', ('b',), BAD_HOUSE_SETS)
+LOT = ('lot', ('a', 'c'), BAD_HOUSE_SETS)
+OTHER_TRUST = ('other', CALM, BAD_TRUSTS + [FOUR, LONE])
+TABLE_CLOCKS = ('clocks', TABLE, BAD_CLOCKS)
+TABLE_HOUSES = ('houses', NAMES, BAD_NAME_SETS + [(), ('a', 'b'), ('b', 'c'), ('a', 'c', 'x')])
+BOUND_HOUSES = ('houses', NAMES, BAD_NAME_SETS)
+BOUNDS_OF = ('bounds', SOME_BOUNDS, odd_among(SOME_BOUNDS, are_bounds) + [list(SOME_BOUNDS), (('a', 'd', 1),), (('a', 'a', 1),)])
+ANY_HOUSE = ('house', 'a', BAD_NAMES)
+ANY_OTHER = ('other', 'b', BAD_NAMES)
+OF_HOUSES = odd_beside(is_some_house, 'd', ['a'], 'A', ('a',))
+SETS_OF = ('sets', SOME_SETS, odd_among(SOME_SETS, lambda value: type(value) is tuple and all(map(are_names, value))))
+ANY_LOT = ('lot', ('a', 'zz'), odd_among(('a', 'zz'), are_names))
+PROMISES = ('promises', UNTILS, odd_among(UNTILS, are_untils) + [(('c', 1), ('b', 2)), (('b', 1), ('b', 2))])
+LONGEST = [TABLE_CLOCKS, ANY_HOUSE, SETS_OF, ANY_LOT, PROMISES]
+A_BOOK = ('book', BOOK, BAD_BOOKS)
+RUN = ('run', LATE, BAD_RUNS)
 
 CALLS = [
     (lets_clocks, [TRUST]),
@@ -150,8 +231,62 @@ CALLS = [
     (safe_houses, [TRUST, FALL]),
     (greatest_falls, [TRUST, HOUSE]),
     (common_falls, [TRUST, HOUSE, ('other', 'c', BAD_HOUSES)]),
+    (odds_fall, [TRUST, ('one', ('a', 1), BAD_PAIRS), ('other', ('b', 2), BAD_PAIRS)]),
+    (all_odds, [TRUST]),
+    (without_pairs, [TRUST, ('pairs', PAIRS_OF, odd_among(PAIRS_OF, are_pairs) + [PAIRS_OF[::-1], (('a', 0), ('a', 1), ('a', 2))])]),
+    (least_dropped, [TRUST]),
+    (needs_of, [TRUST, HOUSE]),
+    (meets_needs, [TRUST, HOUSE, LOT]),
+    (first_missed, [TRUST, HOUSE, LOT]),
+    (least_lots, [TRUST, HOUSE]),
+    (fewest_lot, [TRUST, HOUSE]),
+    (trusts_alike, [TRUST, OTHER_TRUST]),
+    (parting_lot, [TRUST, OTHER_TRUST]),
+    (odds_paper, [TRUST]),
+    (needs_paper, [TRUST, HOUSE]),
+    (lets_odds, [TRUST]),
+    (lets_needs, [TRUST, HOUSE]),
+    (table_of, [BOUND_HOUSES, BOUNDS_OF]),
+    (gap_of, [TABLE_CLOCKS, ('one', 'a', BAD_NAMES), ANY_OTHER]),
+    (way_of, [BOUND_HOUSES, BOUNDS_OF, ('one', 'a', OF_HOUSES), ('other', 'c', OF_HOUSES)]),
+    (table_paper, [BOUND_HOUSES, BOUNDS_OF]),
+    (lets_table, [BOUND_HOUSES, BOUNDS_OF]),
+    (
+        fits,
+        [
+            TABLE_CLOCKS, TABLE_HOUSES,
+            ('setting', (0, -4, -1, 7), odd_among((0, -4, -1, 7), lambda value: plain.is_tuple(value, 4) and all(map(plain.is_integer, value)))),
+        ],
+    ),
+    (any_setting, [TABLE_CLOCKS, TABLE_HOUSES]),
+    (
+        filled_setting,
+        [TABLE_CLOCKS, TABLE_HOUSES, ('shifts', (('b', 1), ('x', 7)), odd_among((('b', 1), ('x', 7)), lambda value: are_untils(value, is_some_house)))],
+    ),
+    (extreme_setting, [TABLE_CLOCKS, TABLE_HOUSES, ('house', 'a', OF_HOUSES), ('low', -9, BAD_INTEGERS)]),
+    (surely_before, [TABLE_CLOCKS, ANY_HOUSE, ('first', 10, BAD_INTEGERS), ANY_OTHER, ('last', 13, BAD_INTEGERS)]),
+    (least_until, [TABLE_CLOCKS, ANY_HOUSE, ('end', 10, BAD_INTEGERS), ANY_OTHER]),
+    (longest_for, LONGEST),
+    (longest_paper, LONGEST),
+    (lets_longest, LONGEST),
+    (with_bound, [TABLE_CLOCKS, ('bound', ('b', 'zz', 3), odd_among(('b', 'zz', 3), is_bound) + [('b', 'b', 3)])]),
+    (without_house, [TABLE_CLOCKS, ANY_HOUSE]),
+    (turned_clocks, [TABLE_CLOCKS]),
+    (is_run, [A_BOOK]),
+    (lets_run, [A_BOOK]),
+    (votes_in, [A_BOOK, RUN, HOUSE]),
+    (learned_in, [A_BOOK, RUN, HOUSE]),
+    (height_in, [A_BOOK, RUN, HOUSE]),
+    (greatest_in, [A_BOOK, RUN, HOUSE]),
+    (state_in, [A_BOOK, RUN, HOUSE]),
+    (looks_in, [A_BOOK, RUN]),
+    (clash_in, [A_BOOK, RUN]),
 ]
-JUDGING = {lets_clocks: (), is_moving: ((), ('up',)), lets_alike: ('alike', (0, 1, 2))}
+JUDGING = {
+    lets_clocks: (), is_moving: ((), ('up',)), lets_alike: ('alike', (0, 1, 2)), lets_odds: ('odds', ('a', 1), ('b', 2), ('c',)),
+    lets_needs: needs_paper(THREE, 'a'), lets_table: table_paper(NAMES, SOME_BOUNDS),
+    lets_longest: longest_paper(TABLE, 'a', SOME_SETS, ('a', 'zz'), UNTILS), is_run: LATE, lets_run: LATE,
+}
 
 
 class Parameters(Case):
@@ -206,6 +341,12 @@ class Parameters(Case):
             self.refused('age', is_moving, DIAL, 'low', True, thing)
             self.refused('trust', lets_clocks, None, thing)
             self.refused('looks', lets_alike, DIAL, 0, 1, ('zz',), thing)
+            self.refused('trust', lets_odds, None, thing)
+            self.refused('house', lets_needs, THREE, 'd', thing)
+            self.refused('bounds', lets_table, NAMES, None, thing)
+            self.refused('promises', lets_longest, TABLE, 'a', SOME_SETS, (), None, thing)
+            self.refused('book', is_run, None, thing)
+            self.refused('book', lets_run, None, thing)
 
     def test_texts(self):
         for call in (machine_read, book_read):
