@@ -52,8 +52,8 @@ def table_by(bounds, ways):
 def least_ways(houses, bounds):
     """For each two unlike houses with a way one that has the least sum.
 
-    House by house ways through it are let, where they are shorter. NoTable is raised as soon as
-    a way there and back through a house is below nought.
+    House by house, ways through it are let where they are shorter; NoTable is raised at the first
+    way there and back that is below nought.
     """
     gaps = least_gaps(bounds)
     ways = {pair: pair for pair in gaps}
@@ -74,26 +74,15 @@ def ways_through(gaps, houses, ways, middle):
             way = ways[(begin, middle)] + ways[(middle, end)][1:]
             total = sum_of(gaps, way)
             if begin == end and total < 0:
-                ring = ring_in(gaps, way)
-                raise NoTable(ring, sum_of(gaps, ring + ring[:1]))
+                # No house stands here twice: this would be two rings, one of them below nought,
+                # and such a one is found as soon as its second last house has been the middle.
+                raise NoTable(turned_ring(way[1:]), total)
             if begin != end and ((begin, end) not in ways or total < sum_of(gaps, ways[(begin, end)])):
                 late[(begin, end)] = way
     return late
 
 
-def ring_in(gaps, walk):
-    """The first ring below nought in a walk there and back that is below nought as a whole.
-
-    A ring that is not below nought is left out, so that some ring behind it has to be.
-    """
-    path = ()
-    for house in walk:
-        if house in path:
-            at = path.index(house)
-            ring = path[at:]
-            if sum_of(gaps, ring + (house,)) < 0:
-                first = ring.index(min(ring))
-                return ring[first:] + ring[:first]
-            path = path[:at]
-        path = path + (house,)
-    return path
+def turned_ring(ring):
+    """The ring, beginning with the least of its houses."""
+    first = ring.index(min(ring))
+    return ring[first:] + ring[:first]

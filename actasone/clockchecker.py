@@ -13,10 +13,9 @@ def lets_table(houses, bounds, thing):
         check_table(gaps, bounds, thing[1], thing[2])
         return True
     need_right(is_tuple(thing, 2) and thing[0] == "none" and isinstance(thing[1], tuple), "shape", -1)
-    # A ring is a way that goes on to where it began.
     ring = thing[1]
-    right = len(ring) > 1 and is_way(gaps, ring) and (ring[-1], ring[0]) in gaps
-    need_right(right, "ring", -1)
+    # No bound leads from a house to itself, so that a ring of one house is none.
+    need_right(is_way(gaps, ring) and (ring[-1], ring[0]) in gaps, "ring", -1)
     need_right(sum_of(gaps, ring + ring[:1]) < 0, "sum", -1)
     return False
 
@@ -34,7 +33,7 @@ def check_table(gaps, bounds, clocks, ways):
 
 
 def is_way(gaps, thing):
-    """Whether any value is a way of two houses or more."""
-    if not isinstance(thing, tuple) or len(thing) < 2 or not all([isinstance(house, str) for house in thing]):
+    """Whether any value is a way; one of a single house may be any name."""
+    if not isinstance(thing, tuple) or thing == () or not all([isinstance(house, str) for house in thing]):
         return False
     return len(set(thing)) == len(thing) and all([step in gaps for step in zip(thing, thing[1:])])
