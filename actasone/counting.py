@@ -21,6 +21,16 @@ def right_many(machine, looks):
 
 def unlike_walk(machine, looks, many):
     need_counted(machine, looks, many)
+    return unlike_of(machine, looks, many)
+
+
+def partings_of(machine, looks, many):
+    need_counted(machine, looks, many)
+    return tuple(partings_up_to(machine, looks, many))
+
+
+def unlike_of(machine, looks, many):
+    """An unlike walk, None without one."""
     parting = parting_after(machine, looks, many)
     if is_settled(parting):
         return None
@@ -31,11 +41,6 @@ def unlike_walk(machine, looks, many):
     beside = answers_to(machine, come_to(machine, two, more)[-1], looks)
     unlike = [look for look, here, there in zip(looks, told, beside) if here != there]
     return (state, row, more, unlike[0])
-
-
-def partings_of(machine, looks, many):
-    need_counted(machine, looks, many)
-    return tuple(partings_up_to(machine, looks, many))
 
 
 def need_counted(machine, looks, many):

@@ -10,6 +10,11 @@ def extreme_setting(clocks, houses, house, low):
     need_clocks_of(clocks, houses)
     need(house in houses, "house")
     need(is_integer(low), "low")
+    return extreme_of(clocks, houses, house, low)
+
+
+def extreme_of(clocks, houses, house, low):
+    """A setting in which the clocks of the others are as early as they can be beside this one."""
     gaps = {name: gap_between(clocks, name, house) for name in houses}
     shifts = {name: -gaps[name] for name in houses if gaps[name] != "any"}
     # No gap from one of the others to one of these is bound. So the others, in any setting that

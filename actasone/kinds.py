@@ -94,6 +94,11 @@ def is_state(machine, thing):
     return is_index(thing, machine[2])
 
 
+def is_age_of(book, thing):
+    """Whether any value is an age that the book can have."""
+    return is_number(thing) and (thing == 0 or book[4] == ())
+
+
 def is_row(machine, thing):
     return isinstance(thing, tuple) and all([letter in machine[0] for letter in thing])
 

@@ -4,7 +4,11 @@ from actasone.runchecker import followed
 
 
 def looks_in(book, run):
-    told = followed(book, run)
+    return looks_of(followed(book, run))
+
+
+def looks_of(told):
+    """The answered looks of safe houses."""
     looks = [look_at(told, index) for index, event in enumerate(told.happened) if event[0] == "answer"]
     return tuple(look for look in looks if look[1] in told.safe)
 

@@ -20,6 +20,11 @@ def least_look_age(machine, look):
 def moving_walk(machine, look, age):
     need_look(machine, look)
     need(is_number(age), "age")
+    return walk_past(machine, look, age)
+
+
+def walk_past(machine, look, age):
+    """A moving walk, None without one."""
     for state, ahead in least_rows(machine, 0).items():
         if is_past(longest_stay(machine, look, state), age):
             return (ahead, leaving_row(machine, look, state, age))

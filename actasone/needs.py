@@ -27,7 +27,7 @@ def least_lots(trust, house):
 
 def fewest_lot(trust, house):
     need_house(trust, house)
-    return min(least_lots_in(trust, house), key=len, default=None)
+    return fewest_in(trust, house)
 
 
 def told_sets(trust, house):
@@ -48,6 +48,11 @@ def needs_in(trust, house):
 
 def missed_needs(trust, house, lot):
     return tuple(part for part in needs_in(trust, house) if common_part(part, lot) == ())
+
+
+def fewest_in(trust, house):
+    """One of the least lots with the fewest houses, None if there are none."""
+    return min(least_lots_in(trust, house), key=len, default=None)
 
 
 def least_lots_in(trust, house):

@@ -21,11 +21,20 @@ def all_odds(trust):
 def without_pairs(trust, pairs):
     need_trust(trust)
     need(are_pairs(trust, pairs) and leaves_lots(trust, pairs), "pairs")
-    return tuple((house, lots_without(house, lots, pairs), fears) for house, lots, fears in trust)
+    return trust_without(trust, pairs)
 
 
 def least_dropped(trust):
     need_trust(trust)
+    return least_dropped_in(trust)
+
+
+def trust_without(trust, pairs):
+    return tuple((house, lots_without(house, lots, pairs), fears) for house, lots, fears in trust)
+
+
+def least_dropped_in(trust):
+    """A least set of pairs without which none are at odds, None without one."""
     odds = odds_in(trust)
     # A pair that is at odds with itself goes in any case.
     alone = tuple(one for one, other in odds if one == other)

@@ -1,15 +1,15 @@
 """Whether what a run tells can happen, and what it makes of the houses, event by event."""
 
 from actasone.falls import safe_houses
-from actasone.kinds import house_names, is_book, is_tuple
+from actasone.kinds import house_names, is_tuple
 from actasone.machineparts import answer_at, come_to
 from actasone.runkinds import are_shifts, is_event_behind, is_fall, until_of
 from actasone.settings import keeps
-from actasone.usable import need, need_right
+from actasone.usable import need, need_book, need_right
 
 
 def lets_run(book, thing):
-    need(is_book(book), "book")
+    need_book(book)
     fault = begin_fault(book, thing)
     need_right(fault is None, fault, -1)
     told = Followed(book, thing[0], thing[1])
@@ -33,11 +33,20 @@ def begin_fault(book, thing):
 
 def followed(book, run):
     """What the run has come to at its end; refuses parameters that are no book and no run of it."""
-    need(is_book(book), "book")
-    need(begin_fault(book, run) is None, "run")
-    told = Followed(book, run[0], run[1])
-    for event in run[2]:
-        need(event_fault(told, event) is None, "run")
+    need_book(book)
+    told = told_of(book, run)
+    need(told is not None, "run")
+    return told
+
+
+def told_of(book, thing):
+    """What any value has come to at its end as a run of the book, None if it is none."""
+    if begin_fault(book, thing) is not None:
+        return None
+    told = Followed(book, thing[0], thing[1])
+    for event in thing[2]:
+        if event_fault(told, event) is not None:
+            return None
         told.follow(event)
     return told
 
@@ -130,10 +139,14 @@ class Followed:
     def reading(self, house, time):
         return time - self.shifts[house]
 
+    def greatest_height(self):
+        """The greatest height that a safe house has had."""
+        return max([self.copies[house].greatest for house in self.safe], default=0)
+
     def follow(self, event):
         """Takes up an event that can happen."""
         index = len(self.happened)
-        self.heights_ahead.append(max([0] + [self.copies[house].greatest for house in self.safe]))
+        self.heights_ahead.append(self.greatest_height())
         self.happened.append(event)
         if event[0] == "told":
             self.asked[(event[2], event[3])] = event[4]

@@ -3,7 +3,6 @@
 from actasone.kinds import (
     are_integers,
     house_names,
-    is_book,
     is_index,
     is_integer,
     is_number,
@@ -12,7 +11,7 @@ from actasone.kinds import (
     is_tuple,
 )
 from actasone.trustparts import entry_of
-from actasone.usable import need
+from actasone.usable import need_book
 
 # What stands in an event behind its first word.
 FORMS = {
@@ -30,7 +29,7 @@ FORMS = {
 
 
 def is_run(book, thing):
-    need(is_book(book), "book")
+    need_book(book)
     if not is_tuple(thing, 3) or not is_fall(book, thing[0]) or not are_shifts(book, thing[1]):
         return False
     if not isinstance(thing[2], tuple):

@@ -1,7 +1,6 @@
 """Machines and books as texts."""
 
-from actasone.kinds import is_book
-from actasone.usable import need, need_machine
+from actasone.usable import need_book, need_machine
 
 
 def machine_text(machine):
@@ -10,7 +9,7 @@ def machine_text(machine):
 
 
 def book_text(book):
-    need(is_book(book), "book")
+    need_book(book)
     machine, trust, clocks, looking, waking = book
     lines = ["\n".join(machine_lines(machine))]
     lines.extend([house_line(house, lots, fears) for house, lots, fears in trust])

@@ -5,8 +5,11 @@ from actasone.kinds import (
     are_names,
     are_promises,
     house_names,
+    is_age_of,
+    is_book,
     is_bound_of,
     is_clocks,
+    is_index,
     is_machine,
     is_name,
     is_set_of,
@@ -65,6 +68,20 @@ def need_house(trust, house):
 def need_lot(trust, house, lot):
     need_house(trust, house)
     need(is_set_of(lot, house_names(trust)), "lot")
+
+
+def need_book(book):
+    need(is_book(book), "book")
+
+
+def need_rule(book, rule):
+    """An index into the rules of looking."""
+    need_book(book)
+    need(is_index(rule, book[3]), "rule")
+
+
+def need_age(book, age):
+    need(is_age_of(book, age), "age")
 
 
 def need_bounds(houses, bounds):

@@ -4,7 +4,7 @@ from random import Random
 
 from tests import plain, plainruns
 from tests import plainclocks as plainly
-from tests.samples import BOOK, CALM, DIAL, FOUR, LAMP, LONE, NEAR, PAIRS, THREE, TURN, WIDE, some_of
+from tests.samples import BOOK, DIAL, FOUR, LAMP, LONE, PAIRS, THREE, TURN, WIDE, some_of
 
 CLOSE = (('a', 'b', 1), ('a', 'c', 1), ('b', 'a', 1), ('b', 'c', 1), ('c', 'a', 0), ('c', 'b', 1))
 ONE = (('a', (('a',),), ((),)),)
@@ -56,6 +56,8 @@ def drawn_event(random, book, events, time):
     kind = random.choice(
         ['vote'] * 6 + ['learn'] * 8 + ['sleep'] + ['wake', 'count', 'count'] + ['begin'] * 2 + ['told'] * 4 + ['answer'] * 5 + ['promise', 'says', 'says']
     )
+    if kind == 'count' and not waking:
+        kind = 'wake'
     rule = random.randrange(len(looking))
     if kind == 'vote':
         return ('vote', time, house, place, letter)
@@ -121,3 +123,11 @@ def drawn_runs(many=20, length=40, seed=60):
         random = Random(seed)
         for _ in range(many):
             yield book, drawn_run(random, book, length)
+
+
+def sleepless_runs(many=20, length=30, seed=61):
+    """Runs of the same books without their rules of waking: an age can be told for these."""
+    for name, book in BOOKS.items():
+        random = Random(seed)
+        for _ in range(many):
+            yield book[:4] + ((),), drawn_run(random, book[:4] + ((),), length)

@@ -3,7 +3,7 @@ entry that applies, or a list with what is to be returned.
 """
 
 from tests import plain
-from tests.plain import is_integer, is_number, is_tuple
+from tests.plain import is_tuple
 
 
 def is_word(value, word):

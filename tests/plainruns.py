@@ -241,3 +241,47 @@ def clash(book, run):
     ]
     pairs = [(j, k) for k, place, letter in known for j, late, other in known if k < j and place == late and letter != other]
     return min(pairs)[::-1] if pairs else None
+
+
+def length(book, run):
+    """How long a row has to be."""
+    fall, _, events = run
+    safe = [house for house in houses_of(book[1]) if plain.is_safe(book[1], house, fall)]
+    places = [event[4] for event in events if event[0] == 'learn' and event[2] in safe]
+    return max([greatest(book, events, house) for house in safe] + [place + 1 for place in places] + [0])
+
+
+def is_row(book, run, row, age, told):
+    """Whether a row of letters is one with which the run is as one; told is what looks tells of it."""
+    fall, _, events = run
+    for event in events:
+        if event[0] == 'learn' and plain.is_safe(book[1], event[2], fall) and row[event[4]] != event[5]:
+            return False
+    for _, _, look, number, least, most in told:
+        begins = [row[:k] for k in range(max(0, least - age), most + 1)]
+        if not any(plain.answers(book[0], plain.made_of(book[0], 0, begin), (look,)) == [number] for begin in begins):
+            return False
+    return True
+
+
+def rows_of_run(book, run, age, more=0):
+    """All rows of the length that is asked for, or of more letters, with which it is as one."""
+    told = looks(book, run)
+    return [row for row in plain.rows_of(book[0], length(book, run) + more) if is_row(book, run, row, age, told)]
+
+
+def row(book, run, thing, age):
+    """What lets_row has to say."""
+    fall, _, events = run
+    if type(thing) is not tuple or not all(is_in(book[0][0])(letter) for letter in thing):
+        return ('shape', -1)
+    if len(thing) < length(book, run):
+        return ('short', -1)
+    for k, event in enumerate(events):
+        if event[0] == 'learn' and plain.is_safe(book[1], event[2], fall) and thing[event[4]] != event[5]:
+            return ('learned', k)
+    told = looks(book, run)
+    for look in told:
+        if not is_row(book, (fall, run[1], ()), thing, age, (look,)):
+            return ('look', look[0])
+    return [len(told)]

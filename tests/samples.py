@@ -55,6 +55,12 @@ LEASED = (
     ),
 )
 SLEPT = ((), (0, 0, 0), VOTES + (('sleep', 2, 'a'), ('count', 3, 'a', 0, 0, 1)))
+SOUND = (LAMP, CALM, NEAR, (('a', ('lit',), ('a', 'b'), 'any', ()), ('a', ('lit',), (), 10, (('b', 12), ('c', 12)))), (('a', 1),))
+WRONG = (LAMP, CALM, NEAR, (('b', ('lit',), ('c',), 'any', ()), ('a', ('lit',), (), 10, (('b', 11), ('c', 12)))), ())
+TORN = (LAMP, THREE, (), (), ())
+# Something of each sort is wrong here: two lots, a rule of looking, and one of waking.
+ALL = (TURN, THREE, NEAR, (('b', LIT, ('c',), 'any', ()), ('a', LIT, ('a', 'b', 'c'), 'any', ())), (('c', 1), ('a', 2)))
+MIXED = (TURN, CALM, NEAR, (('a', LIT, ('b',), 10, (('c', 12),)),), (('a', 2), ('b', 2)))
 DIGITS60 = 10 ** 60 - 1
 DEEP = ()
 for _ in range(39):

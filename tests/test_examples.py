@@ -168,6 +168,65 @@ raises InvalidPaper(word='vote', at=6)
 >>> from actasone.looksinruns import clash_in, looks_in
 >>> [looks_in(BOOK, PLAIN), looks_in(BOOK, LATE), looks_in(BOOK, LEASED), clash_in(BOOK, LATE)]
 [((5, 'b', 'lit', 0, 1, 1),), ((7, 'b', 'lit', 1, 1, 1),), ((5, 'a', 'lit', 0, 0, 0),), None]
+
+>>> from actasone.oneness import first_break, run_is_one, run_row
+>>> from actasone.rowchecker import lets_row
+>>> [run_is_one(BOOK, PLAIN), run_is_one(BOOK, LATE), run_row(BOOK, LATE), run_row(BOOK, PLAIN), first_break(BOOK, PLAIN), lets_row(BOOK, LATE, ('on',))]
+[False, True, ('on',), None, ('look', 5), 1]
+>>> run_is_one((LAMP, CALM, NEAR, LOOKS, ()), PLAIN, age=1)
+True
+>>> lets_row(BOOK, PLAIN, ('on',))
+raises InvalidPaper(word='look', at=5)
+
+>>> from actasone.rulelooks import catches, lasting, rule_is_right, rule_lacks, waking_is_right
+>>> [rule_is_right(BOOK, rule) for rule in (0, 1, 2, 3)]
+[True, False, True, False]
+>>> [rule_lacks(BOOK, 1), lasting(BOOK, 2), lasting(BOOK, 3), rule_lacks(BOOK, 3), catches(BOOK, 3, ('a', 'b'))]
+[(('a', 'b'),), ('b', 'c'), ('c',), (('a', 'b'),), False]
+>>> AHEAD = (('a', 'b', 2), ('a', 'c', 2), ('b', 'a', 0), ('b', 'c', 2), ('c', 'a', 2), ('c', 'b', 2))
+>>> lasting((LAMP, CALM, AHEAD, LOOKS, ()), 3)
+('b', 'c')
+>>> TURN = (('hold', 'turn'), ('lit',), ((0, 1), (1, 0)), ((0,), (1,)))
+>>> MIXED = (TURN, CALM, NEAR, (('a', LIT, ('b',), 10, (('c', 12),)),), (('a', 2), ('b', 2)))
+>>> [rule_is_right(MIXED, 0), waking_is_right(BOOK, 0), waking_is_right(MIXED, 0), waking_is_right(MIXED, 1)]
+[True, True, False, True]
+
+>>> from actasone.bestends import least_untils, longest_end
+>>> [longest_end(BOOK, 2), longest_end(BOOK, 3), least_untils(BOOK, 2), least_untils(BOOK, 3), longest_end(MIXED, 0)]
+[10, 9, (12, 12), (12, None), 10]
+
+>>> from actasone.shownruns import run_of_odds, run_of_rule, run_of_waking
+>>> SHOWN, WOKEN, UNLIKE = run_of_rule(BOOK, 1), run_of_waking(MIXED, 0), run_of_odds((LAMP, THREE, NEAR, (), ()), ('a', 1), ('b', 2))
+>>> [lets_run(BOOK, SHOWN) == len(SHOWN[2]), run_is_one(BOOK, SHOWN), run_is_one(MIXED, WOKEN), UNLIKE[0]]
+[True, False, False, ('c',)]
+>>> [run_of_rule(BOOK, 0), run_of_waking(BOOK, 0), run_of_odds(BOOK, ('a', 0), ('b', 0))]
+[None, None, None]
+
+>>> from actasone.runchanges import moved, shortened, without_events
+>>> [moved(BOOK, PLAIN, 5)[1], len(shortened(BOOK, PLAIN)[2]), without_events(BOOK, PLAIN, (4, 5))[2][-1]]
+[(5, 5, 5), 6, ('begin', 1, 'b', 1, 'lit')]
+>>> without_events(BOOK, PLAIN, (3,))
+raises NotUsable(word='indexes', at=-1)
+
+>>> from actasone.whole import faults_in, faults_of, first_fault, is_as_one, least_age
+>>> SOUND = (LAMP, CALM, NEAR, (('a', ('lit',), ('a', 'b'), 'any', ()), ('a', ('lit',), (), 10, (('b', 12), ('c', 12)))), (('a', 1),))
+>>> WRONG = (LAMP, CALM, NEAR, (('b', ('lit',), ('c',), 'any', ()), ('a', ('lit',), (), 10, (('b', 11), ('c', 12)))), ())
+>>> [is_as_one(SOUND), is_as_one(WRONG), faults_of(WRONG), first_fault(SOUND), is_as_one(WRONG, age=1), least_age(WRONG)]
+[True, False, (('looking', 0), ('looking', 1)), None, False, None]
+>>> TORN = (LAMP, THREE, (), (), ())
+>>> [len(faults_of(TORN)), len(faults_in(TORN, ('c',))), faults_in(TORN, ('b', 'c')), first_fault(TORN)[0]]
+[12, 4, (), 'odds']
+
+>>> from actasone.bookchecker import lets_book
+>>> from actasone.bookpapers import book_paper
+>>> [lets_book(SOUND, book_paper(SOUND)), lets_book(WRONG, book_paper(WRONG)), book_paper(WRONG)[0]]
+[True, False, 'run']
+>>> lets_book(SOUND, ('one', (), ((),), (), ()))
+raises InvalidPaper(word='kept', at=-1)
+
+>>> from actasone.mending import an_ask_for, kept_rules, least_changes, with_longest_ends
+>>> [kept_rules(WRONG)[3], [rule[3] for rule in with_longest_ends(WRONG)[3]], len(an_ask_for(WRONG, 'b', ('lit',))[2]), least_changes(SOUND)[0]]
+[(), ['any', 9], 2, ()]
 '''
 
 

@@ -80,6 +80,24 @@ FUNCTIONS = {
         word: 'book run house' for word in ('votes_in', 'learned_in', 'height_in', 'greatest_in', 'state_in')
     },
     'looksinruns': {'looks_in': 'book run', 'clash_in': 'book run'},
+    'oneness': {word: 'book run * age=0' for word in ('run_is_one', 'run_row', 'first_break')},
+    'rowchecker': {'lets_row': 'book run thing * age=0'},
+    'rulelooks': {
+        'lasting': 'book rule', 'catches': 'book rule lot', 'rule_lacks': 'book rule * age=0', 'rule_is_right': 'book rule * age=0',
+        'waking_is_right': 'book waking',
+    },
+    'bestends': {'longest_end': 'book rule * age=0', 'least_untils': 'book rule * age=0'},
+    'shownruns': {'run_of_rule': 'book rule * age=0', 'run_of_waking': 'book waking', 'run_of_odds': 'book one other'},
+    'runchanges': {'moved': 'book run by', 'without_events': 'book run indexes', 'shortened': 'book run * age=0'},
+    'whole': {
+        'is_as_one': 'book * age=0', 'faults_of': 'book * age=0', 'first_fault': 'book * age=0', 'faults_in': 'book fall',
+        'fault_run': 'book fault * age=0', 'least_age': 'book',
+    },
+    'bookpapers': {'book_paper': 'book'},
+    'bookchecker': {'lets_book': 'book thing'},
+    'mending': {
+        'kept_rules': 'book', 'least_changes': 'book', 'with_longest_ends': 'book', 'an_ask_for': 'book house looks',
+    },
 }
 CLASSES = {
     ('machineclasses', 'Machine'): (
@@ -113,7 +131,13 @@ METHODS = {
 
 
 def parameters(call):
-    return ' '.join(str(part) for part in inspect.signature(call).parameters.values())
+    """The parameters in order, a * ahead of those that are passed by name only."""
+    told = []
+    for part in inspect.signature(call).parameters.values():
+        if part.kind is part.KEYWORD_ONLY and '*' not in told:
+            told.append('*')
+        told.append(str(part))
+    return ' '.join(told)
 
 
 def module(name):

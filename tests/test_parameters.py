@@ -1,5 +1,6 @@
 """Points 2, 14, 24: parameters of any kind, by position and by name, the first wrong one named."""
 
+import inspect
 from itertools import combinations
 
 from actasone.alikechecker import lets_alike
@@ -7,6 +8,9 @@ from actasone.alikepapers import alike_paper
 from actasone.alikestates import (
     alike_classes, are_alike, folded, least_machine, parting_row, starts_alike,
 )
+from actasone.bestends import least_untils, longest_end
+from actasone.bookchecker import lets_book
+from actasone.bookpapers import book_paper
 from actasone.boundtables import gap_of, table_of, way_of
 from actasone.clockchanges import turned_clocks, with_bound, without_house
 from actasone.clockchecker import lets_table
@@ -21,15 +25,21 @@ from actasone.longestpapers import longest_paper
 from actasone.looksinruns import clash_in, looks_in
 from actasone.machinechanges import only_looks, renamed_machine, renumbered, side_by_side
 from actasone.machineparts import answer_of, made_of, next_state
+from actasone.mending import an_ask_for, kept_rules, least_changes, with_longest_ends
 from actasone.moving import is_moving, least_look_age, moves_past, moving_walk
 from actasone.needs import fewest_lot, first_missed, least_lots, meets_needs, needs_of
 from actasone.odds import all_odds, least_dropped, odds_fall, without_pairs
+from actasone.oneness import first_break, run_is_one, run_row
 from actasone.partschecker import lets_clocks
 from actasone.reaching import reachable_states, row_to
 from actasone.readings import book_read, machine_read
+from actasone.rowchecker import lets_row
+from actasone.rulelooks import catches, lasting, rule_is_right, rule_lacks, waking_is_right
+from actasone.runchanges import moved, shortened, without_events
 from actasone.runchecker import lets_run
 from actasone.runkinds import is_run
 from actasone.settings import any_setting, filled_setting, fits
+from actasone.shownruns import run_of_odds, run_of_rule, run_of_waking
 from actasone.texts import book_text, machine_text
 from actasone.trustchanges import renamed_trust, with_fear, with_lot
 from actasone.trustchecker import lets_needs, lets_odds
@@ -37,9 +47,12 @@ from actasone.trustpapers import needs_paper, odds_paper
 from actasone.trustparts import fears_at, houses_of, lots_at
 from actasone.trustsalike import parting_lot, trusts_alike
 from actasone.walkclasses import Walk
+from actasone.whole import fault_run, faults_in, faults_of, first_fault, is_as_one, least_age
 from tests import plain, plainruns
 from tests.cases import Case
-from tests.samples import BOOK, CALM, DIAL, FOUR, LAMP, LATE, LONE, ODD, SMALL, TABLE, THREE, changes_of
+from tests.samples import (
+    BOOK, CALM, DIAL, FOUR, LAMP, LATE, LIT, LONE, MIXED, ODD, PLAIN, SMALL, SOUND, TABLE, THREE, TORN, WRONG, changes_of,
+)
 
 LETTERS, LOOKS, STATES = DIAL[0], DIAL[1], (0, 1, 2)
 HOUSES = ('a', 'b', 'c')
@@ -151,6 +164,20 @@ PROMISES = ('promises', UNTILS, odd_among(UNTILS, are_untils) + [(('c', 1), ('b'
 LONGEST = [TABLE_CLOCKS, ANY_HOUSE, SETS_OF, ANY_LOT, PROMISES]
 A_BOOK = ('book', BOOK, BAD_BOOKS)
 RUN = ('run', LATE, BAD_RUNS)
+FREE = BOOK[:4] + ((),)
+FREE_BOOK = ('book', FREE, BAD_BOOKS)
+# A book with rules of waking has no age but 0.
+NO_AGE = ('age', 0, odd_beside(lambda value: type(value) is int and value == 0, 3, '0', [0]))
+RULE = ('rule', 3, odd_beside(lambda value: type(value) is int and 0 <= value < 4, 4, -4, '0', [0]))
+PROMISED = ('rule', 3, RULE[2] + [0, 1])
+WAKING = ('waking', 0, odd_beside(lambda value: type(value) is int and value == 0, 3, '0', [0]))
+ODDS_RULES = ODD + [('looking', 4), ('waking', 1), ('odds', ('b', 0), ('a', 0)), ('looking', True), ['looking', 0]]
+
+
+def aged(call, *parameters):
+    """The call with an age, in a book with rules of waking, and in one without."""
+    return [(call, [A_BOOK, *parameters, NO_AGE]), (call, [FREE_BOOK, *parameters, AGE])]
+
 
 CALLS = [
     (lets_clocks, [TRUST]),
@@ -281,15 +308,56 @@ CALLS = [
     (state_in, [A_BOOK, RUN, HOUSE]),
     (looks_in, [A_BOOK, RUN]),
     (clash_in, [A_BOOK, RUN]),
+    *aged(run_is_one, RUN),
+    *aged(run_row, RUN),
+    *aged(first_break, RUN),
+    *aged(lets_row, RUN),
+    (lasting, [A_BOOK, RULE]),
+    (catches, [A_BOOK, RULE, LOT]),
+    *aged(rule_lacks, RULE),
+    *aged(rule_is_right, RULE),
+    (waking_is_right, [A_BOOK, WAKING]),
+    *aged(longest_end, PROMISED),
+    *aged(least_untils, PROMISED),
+    *aged(run_of_rule, RULE),
+    (run_of_waking, [A_BOOK, WAKING]),
+    (run_of_odds, [('book', TORN, BAD_BOOKS), ('one', ('a', 1), BAD_PAIRS), ('other', ('b', 2), BAD_PAIRS)]),
+    (moved, [A_BOOK, RUN, ('by', 4, BAD_INTEGERS)]),
+    (without_events, [A_BOOK, RUN, ('indexes', (6, 7), [value for value in ODD if value != ()] + [(3,), (7, 6), (8,), [7], (True,)])]),
+    (shortened, [A_BOOK, ('run', PLAIN, BAD_RUNS), NO_AGE]),
+    *aged(is_as_one),
+    *aged(faults_of),
+    *aged(first_fault),
+    (faults_in, [A_BOOK, FALL]),
+    *aged(fault_run, ('fault', ('looking', 1), ODDS_RULES)),
+    (least_age, [('book', WRONG, BAD_BOOKS + [SOUND, BOOK, MIXED])]),
+    (book_paper, [A_BOOK]),
+    (lets_book, [A_BOOK]),
+    (kept_rules, [('book', SOUND, BAD_BOOKS + [TORN])]),
+    (least_changes, [A_BOOK]),
+    (with_longest_ends, [A_BOOK]),
+    (an_ask_for, [A_BOOK, HOUSE, ('looks', LIT, odd_beside(lambda value: type(value) is tuple and value == LIT, ['lit'], ('lit', 'lit')))]),
 ]
 JUDGING = {
     lets_clocks: (), is_moving: ((), ('up',)), lets_alike: ('alike', (0, 1, 2)), lets_odds: ('odds', ('a', 1), ('b', 2), ('c',)),
     lets_needs: needs_paper(THREE, 'a'), lets_table: table_paper(NAMES, SOME_BOUNDS),
-    lets_longest: longest_paper(TABLE, 'a', SOME_SETS, ('a', 'zz'), UNTILS), is_run: LATE, lets_run: LATE,
+    lets_longest: longest_paper(TABLE, 'a', SOME_SETS, ('a', 'zz'), UNTILS), is_run: LATE, lets_run: LATE, lets_row: ('on',), lets_book: ('run', PLAIN),
 }
 
 
+def split(call, names, values):
+    """The values that are passed by position, and those by name, as they can be passed so alone."""
+    known = inspect.signature(call).parameters
+    named = [name for name in names if known[name].kind is inspect.Parameter.KEYWORD_ONLY]
+    told = dict(zip(names, values))
+    return [told[name] for name in names if name not in named], {name: told[name] for name in named}
+
+
 class Parameters(Case):
+    def refused_so(self, word, call, names, values):
+        args, named = split(call, names, values)
+        self.refused(word, call, *args, **named)
+
     def arguments(self, call, parameters):
         values = [value for _, value, _ in parameters]
         names = [name for name, _, _ in parameters]
@@ -305,7 +373,7 @@ class Parameters(Case):
                 for value in bad:
                     with self.subTest(call=call.__name__, name=name, value=value):
                         late = values[:k] + [value] + values[k + 1 :]
-                        self.refused(name, call, *late)
+                        self.refused_so(name, call, names, late)
                         self.refused(name, call, **dict(zip(names, late)))
 
     def test_two_at_once(self):
@@ -316,14 +384,14 @@ class Parameters(Case):
                 for first in parameters[one][2][:40]:
                     for second in parameters[two][2][-3:]:
                         late[one], late[two] = first, second
-                        self.refused(parameters[one][0], call, *late)
+                        self.refused_so(parameters[one][0], call, names, late)
                         self.refused(parameters[one][0], call, **dict(zip(reversed(names), reversed(late))))
 
     def test_all_wrong(self):
         for call, parameters in CALLS:
             names, values = self.arguments(call, parameters)
             late = [None] * len(parameters) + [None] * (call in JUDGING)
-            self.refused(names[0], call, *late)
+            self.refused_so(names[0], call, names, late)
 
     def test_right_ones_by_name_too(self):
         for call, parameters in CALLS:
@@ -331,8 +399,9 @@ class Parameters(Case):
             if call in (lets_alike,):
                 values[3] = ()
                 values[4] = ('alike', (0, 0, 0))
-            self.same(call(*values), call(**dict(zip(names, values))))
-            self.same(call(*values), call(**dict(zip(reversed(names), reversed(values)))))
+            args, named = split(call, names, values)
+            self.same(call(*args, **named), call(**dict(zip(names, values))))
+            self.same(call(*args, **named), call(**dict(zip(reversed(names), reversed(values)))))
 
     def test_things_are_judged_ahead_of_nothing(self):
         """A thing that is wrong, too, is not looked at before the parameters."""
@@ -347,6 +416,9 @@ class Parameters(Case):
             self.refused('promises', lets_longest, TABLE, 'a', SOME_SETS, (), None, thing)
             self.refused('book', is_run, None, thing)
             self.refused('book', lets_run, None, thing)
+            self.refused('run', lets_row, BOOK, None, thing, age=None)
+            self.refused('age', lets_row, BOOK, LATE, thing, age=1)
+            self.refused('book', lets_book, None, thing)
 
     def test_texts(self):
         for call in (machine_read, book_read):
