@@ -47,7 +47,8 @@ def kept_in(book):
 
 
 def with_longest_end(book, rule):
-    """The rule with its longest end, where it has promises and this is an integer."""
+    """The rule with its longest end, where this is an integer."""
     house, looks, lot, end, promises = book[3][rule]
-    longest = longest_in(book, rule, 0) if promises != () else "any"
+    # Without promises it is no integer.
+    longest = longest_in(book, rule, 0)
     return (house, looks, lot, end if longest in ("any", None) else longest, promises)

@@ -87,7 +87,7 @@ def next_layer(machine, looks, age, place, letters, layer):
         for letter in letters:
             lead = machine[2][state][machine[0].index(letter)]
             still = open_looks(machine, looks, age, place, lead, left)
-            if still is not None and (lead, still) not in late:
+            if still is not None:
                 late[(lead, still)] = (state, left, letter)
     return late
 

@@ -18,7 +18,7 @@ def without_events(book, run, indexes):
     followed(book, run)
     need(are_indexes(run[2], indexes), "indexes")
     left = run_without(run, indexes)
-    need(left is not None and told_of(book, left) is not None, "indexes")
+    need(told_of(book, left) is not None, "indexes")
     return left
 
 
@@ -61,7 +61,7 @@ def once_shortened(book, run, age):
     short = run
     for k in range(len(run[2]) - 1, -1, -1):
         left = run_without(short, (k,))
-        told = None if left is None else told_of(book, left)
+        told = told_of(book, left)
         if told is not None and row_of(told, age) is None:
             short = left
     return short

@@ -51,6 +51,14 @@ def told_of(book, thing):
     return told
 
 
+def gone_on(told, events):
+    """What a run has come to, and these events that can happen behind it; told itself stays."""
+    late = Followed(told.book, told.fall, told.setting)
+    for event in told.happened + events:
+        late.follow(event)
+    return late
+
+
 class Copy:
     """What a house that does not lie keeps for ever, and what it has since it last woke."""
 
@@ -124,10 +132,11 @@ class Followed:
     def __init__(self, book, fall, setting):
         self.book = book
         self.fall = fall
+        self.setting = setting
         self.shifts = dict(zip(house_names(book[1]), setting))
         self.safe = safe_houses(book[1], fall)
         self.copies = {house: Copy() for house in house_names(book[1]) if house not in fall}
-        self.happened = []
+        self.happened = ()
         # For each event the greatest height that a safe house had ahead of it.
         self.heights_ahead = []
         # By the index of its begin and the teller, what was told for a look; which are answered.
@@ -147,7 +156,7 @@ class Followed:
         """Takes up an event that can happen."""
         index = len(self.happened)
         self.heights_ahead.append(self.greatest_height())
-        self.happened.append(event)
+        self.happened = self.happened + (event,)
         if event[0] == "told":
             self.asked[(event[2], event[3])] = event[4]
         elif event[0] == "answer":
@@ -177,7 +186,7 @@ def event_fault(told, event):
     """The word of the first error that an event has behind a run, or None."""
     if not is_event_behind(told.book, told.happened, event):
         return "form"
-    if told.happened != [] and event[1] < told.happened[-1][1]:
+    if told.happened != () and event[1] < told.happened[-1][1]:
         return "time"
     if event[0] == "told":
         return None if can_tell(told, event) else "told"

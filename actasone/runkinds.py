@@ -46,7 +46,7 @@ def are_shifts(book, thing):
 
 
 def is_event_behind(book, ahead, thing):
-    """Whether any value is an event by form behind these events, a tuple or a list of them."""
+    """Whether any value is an event by form behind these events."""
     if not isinstance(thing, tuple) or thing == () or not isinstance(thing[0], str):
         return False
     if thing[0] not in FORMS or len(thing) != 1 + len(FORMS[thing[0]]):

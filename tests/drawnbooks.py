@@ -4,7 +4,7 @@ from random import Random
 
 from tests import plain
 from tests import plainclocks as plainly
-from tests.samples import CALM, LAMP, LONE, ROUND, THREE, TURN, bounds_by_turns, machine_by_turns, set_of, some_of
+from tests.samples import CALM, FLIP, LAMP, LONE, ROUND, THREE, TURN, bounds_by_turns, machine_by_turns, set_of, some_of
 
 # Gaps are at most 3 and untils at most 4 from the ends, so that shifts as far apart tell all.
 SPAN = 6
@@ -43,7 +43,7 @@ def some_looking(random, machine, houses):
 
 
 def drawn_book(random, waking=True, most=3):
-    machine = random.choice([LAMP, TURN, ROUND, machine_by_turns(random, random.randint(1, most), 2, random.randint(1, 2))])
+    machine = random.choice([LAMP, TURN, ROUND, FLIP, machine_by_turns(random, random.randint(1, most), 2, random.randint(1, 2))])
     trust = random.choice([CALM, THREE, LONE] + [some_trust(random, random.randint(1, 3)) for _ in range(5)])
     houses = tuple(plain.houses_of(trust))
     looking = tuple(some_looking(random, machine, houses) for _ in range(random.randint(0, 3)))

@@ -10,6 +10,8 @@ SMALL = (LAMP, CALM, (('a', 'b', 2),), (('a', ('lit',), (), 10, (('b', 12), ('c'
 DIAL = (('down', 'up'), ('high', 'low'), ((0, 1), (0, 2), (1, 2)), ((0, 1), (0, 0), (1, 0)))
 SPARE = (('hold', 'turn'), ('lit',), ((2, 1), (1, 0), (0, 1), (3, 3)), ((0,), (1,), (0,), (1,)))
 ROUND = (('tick', 'tock'), ('day', 'hour'), ((1, 1), (2, 2), (0, 0)), ((0, 0), (0, 1), (0, 2)))
+# Each letter leads to the other state: another answer lasts for one state, not for two.
+FLIP = (('tick', 'tock'), ('lit',), ((1, 1), (0, 0)), ((0,), (1,)))
 PAST = (('no', 'yes'), ('new', 'old'), ((0, 1), (2, 3), (0, 1), (2, 3)), ((0, 0), (1, 0), (0, 1), (1, 1)))
 TRIOS = (('a', 'b', 'c'), ('a', 'b', 'd'), ('a', 'c', 'd'), ('b', 'c', 'd'))
 FEARS = (

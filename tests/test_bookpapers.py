@@ -109,7 +109,8 @@ class Checker(Case):
                     self.judge(book, set_in(late, (word, 0), None))
 
     def test_not_told(self):
-        for thing in ODD + [('one',), ('one', (), (), ()), ('one', (), (), (), [], ()), ('one', [], (), (), ()), ('run',), ('run', PLAIN, ()), ('Run', PLAIN), ['run', PLAIN]]:
+        more = [('one',), ('one', (), (), ()), ('one', (), (), (), [], ()), ('one', [], (), (), ()), ('run',), ('run', PLAIN, ()), ('Run', PLAIN)]
+        for thing in ODD + more + [['run', PLAIN]]:
             for book in (BOOK, SOUND):
                 self.judge(book, thing)
         for k in range(1, 5):
@@ -131,7 +132,9 @@ class Checker(Case):
         paper = book_paper(FULL)
         self.same(len(paper[1]), 16 * 17 // 2)
         for k in (0, 1, 60, 135):
-            for names in (('a', 'b'), ('a', 'd'), ('d', 'd'), ('b', 'c'), ('a', 'b', 'c'), ('e',), ()):
+            for names in (
+                ('a', 'b'), ('a', 'd'), ('d', 'd'), ('b', 'c'), ('a', 'b', 'c'), ('b', 'b', 'c'), ('a', 'c', 'c'), ('a', 'a', 'd'), ('a', 'b', 'd'), ('e',), (),
+            ):
                 self.judge(FULL, set_in(paper, (1, k), names))
         # No fall is one in which both are safe but (): any house of both lots is kept.
         pairs = book_paper(SOUND)
@@ -151,6 +154,7 @@ class Checker(Case):
         for bools in (
             (True, True, True, False), (True, True, True, True), (False, True, True, True), (True, False, True, False), (True, True, True), (True, True, 1, False),
             (True, True, True, None), (1, 1, 1, 0), (), [], (True, True, True, False, False), (False,) * 4, (True, True, True, 0),
+            (False, False, False, True),
         ):
             self.judge(calm, set_in(paper, (2, 0), bools))
         other = set_in(calm, (0, 3, 3), (9,))
@@ -198,6 +202,15 @@ class Checker(Case):
         paper = ('one', book_paper(book[:4] + ((),))[1], ((),), ((('a', 'a', 'b')),), (((0, 0, 2), (0, 0, 0), (0, 0, 0)),))
         self.judge(book, paper)
         self.same(verdict(book, paper), ('partings', 0))
+
+        # What parts the states later is not in the first parting, and even so the last one is one class.
+        gone = (('go', 'stay'), LIT, ((2, 2), (3, 3), (2, 2), (2, 2)), ((0,), (0,), (0,), (1,)))
+        book = (gone, CALM, (), (('a', LIT, ('a', 'b'), 'any', ()),), (('a', 2),))
+        self.same(is_as_one(book), True)
+        for first, wanted in (((0, 0, 0, 1), ('partings', 0)), ((0, 2, 0, 1), [True])):
+            paper = set_in(book_paper(book), (4, 0), (first, (0, 1, 0, 0), (0, 0, 0, 0)))
+            self.same(verdict(book, paper), wanted)
+            self.judge(book, paper)
 
     def test_the_book(self):
         for book in ODD + [BOOK[:4], list(BOOK)]:

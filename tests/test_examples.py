@@ -227,6 +227,27 @@ raises InvalidPaper(word='kept', at=-1)
 >>> from actasone.mending import an_ask_for, kept_rules, least_changes, with_longest_ends
 >>> [kept_rules(WRONG)[3], [rule[3] for rule in with_longest_ends(WRONG)[3]], len(an_ask_for(WRONG, 'b', ('lit',))[2]), least_changes(SOUND)[0]]
 [(), ['any', 9], 2, ()]
+
+>>> from actasone.live import LiveHouses
+>>> live = LiveHouses(BOOK, (), (0, 0, 0))
+>>> [live.do_all(VOTES[0], VOTES[1], VOTES[2]), live.heights(), live.states(), live.table(), live['a'], live.is_one()]
+[3, (1, 0, 0), (1, 0, 0), ['a 1 1', 'b 0 0', 'c 0 0'], (True, 1, 1), True]
+>>> [live.note('m'), live.begin(1, 'b', 1, 'lit'), live.told(1, 3, 'c', 0), live.answer(1, 3, 0), live.first_broken(), live.undo(), len(live.since('m')), live.tally()]
+[3, True, True, False, ('look', 5), ('answer', 1, 3, 0), 2, (5, 5)]
+
+>>> from actasone.guarded import Guarded
+>>> from actasone.through import lead_through
+>>> lead_through(Guarded(BOOK, (), (0, 0, 0)), PLAIN[2])
+(None, None, None, None, None, 'broken')
+
+>>> from actasone.desk import Desk
+>>> from actasone.eventreadings import read_event
+>>> from actasone.eventtexts import event_line, log_lines
+>>> [event_line(VOTES[2]), read_event('told -1 3 c 0')]
+['learn 1 a a,b 0 on', ('told', -1, 3, 'c', 0)]
+>>> desk = Desk()
+>>> [desk.say(row) for row in ('\n'.join(log_lines(live.log()[:1])), 'vote 0 a 0 on', 'bars vote 0 a 0 off', 'undo')]
+['ok', 'one', 'vote', 'vote 0 a 0 on']
 '''
 
 

@@ -98,6 +98,13 @@ FUNCTIONS = {
     'mending': {
         'kept_rules': 'book', 'least_changes': 'book', 'with_longest_ends': 'book', 'an_ask_for': 'book house looks',
     },
+    'bookchanges': {'with_rule': 'book rule', 'without_rule': 'book fault', 'books_alike': 'book other'},
+    'liveevents': {'is_event': 'thing'},
+    'through': {'lead_through': 'live events'},
+    'replaying': {'is_log': 'thing', 'replayed': 'log'},
+    'eventtexts': {'event_line': 'event', 'log_lines': 'log'},
+    'eventreadings': {'read_event': 'text', 'read_log': 'lines'},
+    'desk': {'say': 'desk row', 'counts': 'desk'},
 }
 CLASSES = {
     ('machineclasses', 'Machine'): (
@@ -116,6 +123,18 @@ CLASSES = {
     ('clockclasses', 'Clocks'): (
         'houses *bounds', 'houses_now table_now __call__ __contains__ __len__ __iter__ __add__ __eq__',
     ),
+    ('bookclasses', 'Book'): (
+        'machine trust clocks looking waking',
+        'book_now faults_now is_one_now run __add__ __sub__ __contains__ __len__ __iter__ __eq__',
+    ),
+    ('live', 'LiveHouses'): (
+        'book fall setting * age=0',
+        'MOST book_now fall_now setting_now age_now run_now time_now go vote learn sleep wake count begin told answer promise says is_one '
+        'first_broken row_told looks heights states learned votes table barred tried undo do_all tally note since notes log __getitem__ '
+        '__contains__ __len__ __iter__ __str__ __eq__',
+    ),
+    ('guarded', 'Guarded'): ('book fall setting * age=0', '__init__'),
+    ('desk', 'Desk'): ('', 'say counts'),
 }
 METHODS = {
     ('machineclasses', 'Machine', '__call__'): 'self state row',
@@ -127,6 +146,27 @@ METHODS = {
     ('walkclasses', 'Walk', 'back'): 'self',
     ('walkclasses', 'Walk', '__call__'): 'self row',
     ('clockclasses', 'Clocks', '__call__'): 'self one other',
+    ('bookclasses', 'Book', 'run'): 'self fault',
+    ('live', 'LiveHouses', 'go'): 'self event',
+    ('live', 'LiveHouses', 'vote'): 'self time house place letter',
+    ('live', 'LiveHouses', 'learn'): 'self time house lot place letter',
+    ('live', 'LiveHouses', 'sleep'): 'self time house',
+    ('live', 'LiveHouses', 'wake'): 'self time house',
+    ('live', 'LiveHouses', 'count'): 'self time house waking place state',
+    ('live', 'LiveHouses', 'begin'): 'self time house rule look',
+    ('live', 'LiveHouses', 'told'): 'self time begun teller number',
+    ('live', 'LiveHouses', 'answer'): 'self time begun number',
+    ('live', 'LiveHouses', 'promise'): 'self time house rule',
+    ('live', 'LiveHouses', 'says'): 'self time house rule number',
+    ('live', 'LiveHouses', 'learned'): 'self house',
+    ('live', 'LiveHouses', 'votes'): 'self house',
+    ('live', 'LiveHouses', 'barred'): 'self event',
+    ('live', 'LiveHouses', 'tried'): 'self *events',
+    ('live', 'LiveHouses', 'do_all'): 'self *events keep=False',
+    ('live', 'LiveHouses', 'note'): 'self name',
+    ('live', 'LiveHouses', 'since'): 'self name',
+    ('desk', 'Desk', 'say'): 'self row',
+    ('desk', 'Desk', 'counts'): 'self',
 }
 
 
@@ -134,7 +174,7 @@ def parameters(call):
     """The parameters in order, a * ahead of those that are passed by name only."""
     told = []
     for part in inspect.signature(call).parameters.values():
-        if part.kind is part.KEYWORD_ONLY and '*' not in told:
+        if part.kind is part.KEYWORD_ONLY and not any(word.startswith('*') for word in told):
             told.append('*')
         told.append(str(part))
     return ' '.join(told)

@@ -233,7 +233,13 @@ class Language(unittest.TestCase):
         for name, tree in trees():
             for node in ast.walk(tree):
                 if isinstance(node, ast.Name) and node.id in vars(builtins):
-                    self.assertIn(node.id, BUILTINS | {'property', 'classmethod', 'staticmethod'}, name)
+                    self.assertIn(node.id, BUILTINS | {'property', 'classmethod', 'staticmethod', 'super'}, name)
+                    if node.id == 'super':
+                        # Directly in a method: super().told(..).
+                        call = node.parent.parent.parent
+                        self.assertTrue(isinstance(call, ast.Call) and isinstance(call.func, ast.Attribute) and call.func.value is node.parent)
+                        self.assertEqual(node.parent.args + node.parent.keywords, [])
+                        self.assertFalse(call.func.attr.startswith('__'))
                     if node.id in BUILTINS and node.id not in ('ValueError', 'int', 'str', 'tuple', 'bool', 'list'):
                         is_called = isinstance(node.parent, ast.Call) and node.parent.func is node
                         is_key = isinstance(node.parent, ast.keyword) and node.parent.arg == 'key' and node.id == 'len'

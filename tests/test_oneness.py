@@ -169,6 +169,17 @@ class Oneness(Case):
         self.one(TURNS, run_of(*other), False)
         self.same(first_break(TURNS, run_of(*other)), ('look', 7))
 
+    def test_a_look_that_began_ahead_of_all(self):
+        """Its house woke in a wrong state: the answer is that of no beginning, not even of the first one."""
+        events = (
+            ('vote', 0, 'a', 0, 'hold'), ('sleep', 0, 'a'), ('count', 0, 'a', 0, 0, 1), ('begin', 0, 'a', 0, 'lit'), ('learn', 1, 'a', ('a',), 0, 'hold'),
+        )
+        wrong = run_of(*events, ('answer', 1, 3, 1))
+        self.one(TURNS, wrong, False)
+        self.same(first_break(TURNS, wrong), ('look', 5))
+        right = run_of(*events[:2], ('count', 0, 'a', 0, 0, 0), *events[3:], ('answer', 1, 3, 0))
+        self.one(TURNS, right, True)
+
     def test_several_looks_at_once(self):
         """Looks that began together need not be answered behind the same beginning."""
         events = (('begin', 0, 'b', 1, 'lit'), ('begin', 0, 'c', 2, 'lit'), *own('a', 0, 'on'), ('answer', 1, 0, 0), *own('c', 0, 'on', 1), ('answer', 2, 1, 1))

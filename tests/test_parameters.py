@@ -9,6 +9,7 @@ from actasone.alikestates import (
     alike_classes, are_alike, folded, least_machine, parting_row, starts_alike,
 )
 from actasone.bestends import least_untils, longest_end
+from actasone.bookchanges import books_alike, with_rule, without_rule
 from actasone.bookchecker import lets_book
 from actasone.bookpapers import book_paper
 from actasone.boundtables import gap_of, table_of, way_of
@@ -174,6 +175,10 @@ WAKING = ('waking', 0, odd_beside(lambda value: type(value) is int and value == 
 ODDS_RULES = ODD + [('looking', 4), ('waking', 1), ('odds', ('b', 0), ('a', 0)), ('looking', True), ['looking', 0]]
 
 
+def is_waking_rule(value):
+    return plain.is_waking(value, is_house)
+
+
 def aged(call, *parameters):
     """The call with an age, in a book with rules of waking, and in one without."""
     return [(call, [A_BOOK, *parameters, NO_AGE]), (call, [FREE_BOOK, *parameters, AGE])]
@@ -336,6 +341,9 @@ CALLS = [
     (kept_rules, [('book', SOUND, BAD_BOOKS + [TORN])]),
     (least_changes, [A_BOOK]),
     (with_longest_ends, [A_BOOK]),
+    (with_rule, [A_BOOK, ('rule', ('b', 4), odd_among(('b', 4), is_waking_rule))]),
+    (without_rule, [A_BOOK, ('fault', ('looking', 2), ODDS_RULES)]),
+    (books_alike, [A_BOOK, ('other', BOOK, BAD_BOOKS + [FREE, SOUND])]),
     (an_ask_for, [A_BOOK, HOUSE, ('looks', LIT, odd_beside(lambda value: type(value) is tuple and value == LIT, ['lit'], ('lit', 'lit')))]),
 ]
 JUDGING = {
