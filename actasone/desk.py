@@ -8,14 +8,6 @@ from actasone.live import LiveHouses
 from actasone.usable import need
 
 
-def say(desk, row):
-    return desk.say(row)
-
-
-def counts(desk):
-    return desk.counts()
-
-
 def spaced(parts):
     """These in one row, - for None and without any."""
     return " ".join([word_of(part) for part in parts]) if parts else "-"
@@ -139,3 +131,13 @@ class Desk:
 
     def counts(self):
         return (self._calls, self._calls)
+
+
+def say(desk, row):
+    need(isinstance(desk, Desk), "desk")
+    return desk.say(row)
+
+
+def counts(desk):
+    need(isinstance(desk, Desk), "desk")
+    return desk.counts()

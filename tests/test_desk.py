@@ -252,6 +252,11 @@ class Counts(Case):
         self.same([say(desk, opening(BOOK)), say(row='one', desk=desk), counts(desk)], ['ok', 'yes', (2, 2)])
         self.same([desk.say('one'), counts(desk=desk)], ['yes', (3, 3)])
         self.raised(InvalidRow, {'row': 'x'}, say, desk, 'x')
+        self.refused('row', say, desk, 5)
+        for value in ODD + [Desk]:
+            self.refused('desk', say, value, 'one')
+            self.refused('desk', counts, value)
+        self.same(desk.counts(), (5, 5))
 
     def test_plain_values(self):
         live = LiveHouses(BOOK, (), (0, 0, 0))
